@@ -1,0 +1,86 @@
+"""Choices, rings and runs of short books."""
+
+from touchroad.checks import check_book, check_memory
+from touchroad.choices import choice_of_steps, end_of_choice, is_choice, picks_of, ring_of_choice, run_of_choice
+from touchroad.errors import InvalidChoice, InvalidRun, NotFree, NotShort
+from touchroad.rings import behind_order, own_behind_order, pairs_of
+from touchroad.runs import is_run
+from touchroad.sketches import Sketch, is_short_book
+from touchroad.values import rebuilt
+
+
+def is_short(book):
+    """Return whether a book is short."""
+    check_book(book)
+    return is_short_book(book)
+
+
+def sketch_of(book, memory):
+    """Return the sketch of a short book; raise InvalidBook, NotShort or InvalidMemory."""
+    if not is_short(book):
+        raise NotShort(rebuilt(book))
+    check_memory(memory)
+    return Sketch(book, memory)
+
+
+def sketch_for(book, memory, choice):
+    """Return the sketch of a short book; raise InvalidChoice, too."""
+    sketch = sketch_of(book, memory)
+    if not is_choice(sketch, choice):
+        raise InvalidChoice(rebuilt(choice))
+    return sketch
+
+
+def sketch_if_free(book, memory, choice):
+    """Return the sketch of a short book; raise NotFree for a choice with a ring, too."""
+    sketch = sketch_for(book, memory, choice)
+    if ring_of_choice(sketch, choice) is not None:
+        raise NotFree(rebuilt(choice))
+    return sketch
+
+
+def events(book, memory):
+    """Return the list of the events."""
+    return sketch_of(book, memory).events
+
+
+def kept(book, memory):
+    """Return the ascending list of the pairs of events of one core whose order is kept."""
+    return pairs_of(sketch_of(book, memory).kept)
+
+
+def behind(book, memory, choice):
+    """Return the ascending list of the pairs of behind."""
+    sketch = sketch_for(book, memory, choice)
+    picked, after = picks_of(sketch, choice)
+    return pairs_of(behind_order(sketch, picked, after))
+
+
+def own_behind(book, memory, choice):
+    """Return the ascending list of the pairs of own_behind."""
+    sketch = sketch_for(book, memory, choice)
+    picked, after = picks_of(sketch, choice)
+    return pairs_of(own_behind_order(sketch, picked, after))
+
+
+def ring(book, memory, choice):
+    """Return (kind, events) of a ring, None if the choice is without a ring."""
+    return ring_of_choice(sketch_for(book, memory, choice), choice)
+
+
+def end_of(book, memory, choice):
+    """Return the end that belongs to a choice without a ring."""
+    return end_of_choice(sketch_if_free(book, memory, choice), choice)
+
+
+def choice_of(book, memory, run):
+    """Return the choice of a run."""
+    sketch = sketch_of(book, memory)
+    if not is_run(book, memory, run):
+        raise InvalidRun(rebuilt(run))
+    return choice_of_steps(sketch, book, run)
+
+
+def run_of(book, memory, choice):
+    """Return a run whose choice is a choice without a ring."""
+    return run_of_choice(sketch_if_free(book, memory, choice), book, choice)
