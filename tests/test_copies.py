@@ -202,6 +202,12 @@ class Deeds(unittest.TestCase):
                 ("ask", 1, 0, Odd()), (Odd(), 1), ("drop", 0, False), ("drop", 1, 0), ("drop", 0, 1), ("drop", 0),
                 ("in", 0), ("out", 0), ("in",), ("out", 0, 0), ("fetch", 0), ("flush", 0), ("back", 0, 0), ("ask",)):
             check_raises(self, NotLet, deed, copies_after, plan, copies, deed)
+        both, _ = done(plan, (5, 6, 7, 8), 2, got(0, 0, "own") + got(1, 1, "read") + [
+            ("ask", 1, 1, "own"), ("out", 1), ("drop", 0, 0)])
+        self.assertEqual([deed for deed in copies_deeds(plan, both) if deed[0] in ("out", "in")], [("out", 0), ("in", 1)])
+        for deed in (("out", 0, 0), ("in", 1, 1), ("in", 1, None), (Odd(), 0), (Odd(), 1), ("in", -1), ("out", -2), ("in", True),
+                     ("out", False), ["out", 0], (b"out", 0), ("in", 0), ("out", 1)):
+            check_raises(self, NotLet, deed, copies_after, plan, both, deed)
         for deed in (("write", 0, 0, 5), ("ask", 1, 0, "own"), ("drop", 0, 0)):
             copies_after(plan, copies, deed)
             for other in variants(deed):
@@ -361,6 +367,38 @@ class Fits(unittest.TestCase):
         self.assertIs(fits(plan, copies[:2] + ((((), ()), (letters, ()), ((("gave", 0, (1,)),), ())),)), True)
         self.assertIs(fits(plan, copies[:2] + ((((("gave", 0, (1,)),), ()), (letters, ()), ((), ())),)), False)
         self.assertEqual(memory_now(plan, (copies[0],) + copies[1:2] + ((((), ()), (letters, ()), ((), ())),)), (4, 3))
+
+    def test_numbers_of_cores_and_lines(self):
+        plan = (4, 2, 1, 1, 1)
+        caches, homes, ways = copies_first(plan, (5, 6, 7, 8), 1)
+        for cores in range(7):
+            check_boolean(self, 1 <= cores <= 4, fits(plan, (caches * cores, homes, ways * cores)))
+        self.assertIs(fits(plan, (caches, homes, ways * 2)), False)
+        self.assertIs(fits(plan, (caches * 2, homes, ways)), False)
+        self.assertIs(fits(plan, (caches, homes[:1], ways)), False)
+        self.assertIs(fits(plan, (caches, homes * 2, ways)), False)
+        one, two = (0, "shared", (5, 6)), (1, "shared", (7, 8))
+        for room in (1, 2, 4):
+            wide = (4, 2, room, 1, 1)
+            for lines, good in (((one,), True), ((two,), True), ((one, two), room > 1), ((two, one), False), ((one, one), False)):
+                check_boolean(self, good, fits(wide, (((lines, None),), homes, ways)))
+                check_boolean(self, good, fits(wide, (((lines, (0, "own")),), homes, ways)))
+
+    def test_letters(self):
+        plan = (4, 2, 1, 1, 1)
+        caches, homes, _ = copies_first(plan, (5, 6, 7, 8), 1)
+        out = (("want", 1, "read"), ("back", 0, (1, 2)), ("gave", 1, (1, 2)), ("lost", 0, (1, 2)), ("gone", 1))
+        into = (("have", 1, "owned", (1, 2)), ("share", 0), ("lose", 1))
+        self.assertIs(fits(plan, (caches, homes, ((out, into),))), True)
+        for letter in out:
+            self.assertIs(fits(plan, (caches, homes, (((), (letter,)),))), False)
+        for letter in into:
+            self.assertIs(fits(plan, (caches, homes, (((letter,), ()),))), False)
+        for letter in out + into:
+            for other in list(variants(letter)) + [(), ("none", 0), (Odd(), 0), ([], 0), letter[:1]]:
+                for way in (((other,), ()), ((), (other,))):
+                    value = (caches, homes, (way,))
+                    check_boolean(self, reference_fits(plan, value), fits(plan, value))
 
     def test_any_object(self):
         for value in WRONG:

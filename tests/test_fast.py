@@ -160,6 +160,21 @@ class OneCore(unittest.TestCase):
         self.assertEqual(self.core(rows, done + [run(2)])[3], 3)
         self.assertEqual(self.core(rows, done + [RETIRE, run(2)])[3], 3)
 
+    def test_tags_are_no_rows(self):
+        """A wrong guess leaves tags that are far from the rows."""
+        rows = (("ifzero", 1, 2), ("jump", 1), ("store", 3, 0, 0), ("load", 1, 0, 1), ("store", 0, 1, 0), ("load", 2, 0, 0))
+        start = [FETCH] * 6 + [run(0)] + [FETCH] * 4 + [run(6), run(9)] + got(1, "read") + [run(7)]
+        core = self.core(rows, start)
+        self.assertEqual([entry[:2] for entry in core[5]], [(0, 0), (6, 2), (7, 3), (8, 4), (9, 5)])
+        self.assertEqual(core[5][4][5], ("window", 6))
+        core = self.core(rows, start + [run(8)])
+        self.assertEqual((len(core[5]), core[3], core[4]), (4, 5, 10))
+        core = self.core(rows, start + [RETIRE, RETIRE])
+        self.assertEqual((core[0], core[2], core[5][2][5]), (3, ((6, 0, 0),), ("stores", 6)))
+        core = self.core(rows, start + [RETIRE, RETIRE] + got(0, "own") + [FLUSH])
+        self.assertEqual((core[2], core[5][2][5]), ((), ("line",)))
+        self.not_let(rows, start, run(1), run(2), run(3), run(4), run(5), run(10))
+
     def test_guesses(self):
         rows = (("ifzero", 0, 0),)
         guesses, done = [], []
@@ -287,7 +302,23 @@ class OneCore(unittest.TestCase):
             for deed in variants(good):
                 if not same(deed, ("ask", 1, 1, "own")) and not same(deed, ("ask", 0, 0, "own")):
                     check_raises(self, NotLet, deed, after, self.plan, book, stand, deed)
+        # Where much is let, what looks like it is not.
+        book = ((("store", 0, 0, 0), ("gap",), ("gap",), ("add", 1, 1, 1)), (("gap",), ("load", 1, 0, 1), ("gap",)))
+        done = [FETCH, run(0), RETIRE, FETCH, FETCH, FETCH] + got(0, "own") + [("drop", 0, 0)] + [("fetch", 1)] * 2 + [
+            ("ask", 1, 1, "read"), ("out", 1), ("in", 1), ("ask", 1, 1, "own"), ("out", 0)] + got(0, "own") + [
+            ("ask", 0, 1, "read")]
+        stand = stand_after(self.plan, book, (5, 6), done)
+        let = deeds(self.plan, book, stand)
+        self.assertEqual({deed[0] for deed in let}, {"run", "retire", "flush", "fetch", "drop", "out"})
+        for good in let:
+            after(self.plan, book, stand, good)
+            wrong = [good + (0,), good + (None,), list(good), (Odd(),) + good[1:], good[:1] + (good[1] - 2,) + good[2:],
+                     good[:1] + (bool(good[1]),) + good[2:], (good[0].encode(),) + good[1:], good[:1], ()]
+            wrong += [good[:2] + (bool(good[2]),) + good[3:], good[:2]] if len(good) > 2 else []
+            for deed in wrong:
+                check_raises(self, NotLet, deed, after, self.plan, book, stand, deed)
         # A write is a deed of copies, not of the fast machine.
+        book = ((("gap",), ("gap",)), ())
         stand = stand_after(self.plan, book, (5, 6), got(0, "own"))
         check_raises(self, NotLet, ("write", 0, 0, 5), after, self.plan, book, stand, ("write", 0, 0, 5))
 

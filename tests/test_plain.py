@@ -109,6 +109,9 @@ class Steps(unittest.TestCase):
             check_raises(self, NotLet, step, plain_after, book, stand, step)
             check_raises(self, NotLet, step, plain_run, book, (0,), [DO, step] if step != DO else [step])
         check_raises(self, NotLet, DO, plain_run, book, (0,), [DO, DO])
+        both, late = ((("gap",),), (("store", 0, 0, 0), ("gap",))), ("do", 1)
+        for step in (("do", -1), ("flush", -1), ("do", -2), ("do", 2), (Odd(), 1), ("do", 1, 1), ("do", True)):
+            check_raises(self, NotLet, step, plain_run, both, (0,), [late, step])
         for step in variants(DO):
             if type(step) is tuple and same(step, DO):
                 continue

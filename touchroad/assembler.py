@@ -63,9 +63,8 @@ def cores_of(lines):
     for number, line in enumerate(lines):
         if line == "core" and len(cores) < 4:
             cores.append(({}, []))
-        elif line == "core" or len(cores) == 0:
-            raise InvalidText(number)
-        elif not takes_line(cores[-1][0], cores[-1][1], number, line):
+        elif len(cores) == 0 or not takes_line(cores[-1][0], cores[-1][1], number, line):
+            # A fifth core comes here, too: it is neither a name nor an instruction.
             raise InvalidText(number)
     return cores
 
