@@ -88,6 +88,8 @@ class Ends(unittest.TestCase):
                     self.assertIs(cores, None)
                 for other in found[:4]:
                     check_boolean(self, other == one, run_leads(book, memory, other, run))
+                    if cores is not None:
+                        check_boolean(self, other == one, one_row_run_leads(book, memory, other, cores))
             registers, words = (found or [(((0,) * 8,) * len(book), memory)])[0]
             other = (registers, words[:-1] + (12345,))
             if other not in found:
@@ -117,6 +119,12 @@ class Ends(unittest.TestCase):
                 return False
             machine.go(step)
         return machine.ended() and machine.end() == one
+
+    def test_a_run_to_another_end(self):
+        first = one_row_ends(CROSSED, (0, 0))[0]
+        for one in one_row_ends(CROSSED, (0, 0)):
+            self.assertIs(one_row_run_leads(CROSSED, (0, 0), first, one_row_run_to(CROSSED, (0, 0), one)), one == first)
+            self.assertIs(run_leads(CROSSED, (0, 0), first, run_to(CROSSED, (0, 0), one)), one == first)
 
     def test_late_loads(self):
         none = ((0, 1, 0, 0, 0, 0, 0, 0),) * 2

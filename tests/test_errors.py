@@ -3,9 +3,12 @@ import unittest
 import touchroad.errors as errors
 from touchroad.books import is_book
 from touchroad.checks import check_book, check_memory, check_memory_of, check_number, check_plan
-from touchroad.copies import copies_first
-from touchroad.fast import after, first
-from touchroad.plain import plain_after, plain_first, plain_run
+from touchroad.copies import copies_deeds, copies_first
+from touchroad.ends import always, ends, one_row_run_to, run_leads, run_to
+from touchroad.events import choice_of, events, kept
+from touchroad.fast import after, bridge, deeds, first, is_bridge, run_by, steady
+from touchroad.papers import comes
+from touchroad.plain import one_row_run, plain_after, plain_first, plain_run, plain_steps
 from tests.helpers import WRONG, check_raises, deep, same
 
 NAMES = """InvalidPlan InvalidBook InvalidMemory InvalidNumber InvalidText NotLet InvalidEnd NotShort InvalidChoice
@@ -108,6 +111,37 @@ class WhatIsRaised(unittest.TestCase):
         stand = plain_first(good, (0,))
         check_raises(self, errors.NotLet, ("do", True), plain_after, good, stand, ("do", True))
         check_raises(self, errors.NotLet, ["do", 1], plain_after, good, stand, ["do", 1])
+
+
+class WhatIsReturned(unittest.TestCase):
+    def test_lists_are_new(self):
+        book, plan = ((("set", 1, 1), ("store", 1, 0, 0)), (("load", 1, 0, 0),)), (1, 1, 1, 1, 1)
+        stand, fast, copies = plain_first(book, (0,)), first(plan, book, (0,)), copies_first(plan, (0,), 2)
+        end = ends(book, (0,))[0]
+        calls = (lambda: plain_steps(book, stand), lambda: deeds(plan, book, fast), lambda: copies_deeds(plan, copies),
+                 lambda: steady(plan, book, (0,), 30)[0], lambda: run_by(plan, book, (0,), [5, 7])[0],
+                 lambda: bridge(plan, book, (0,), []), lambda: ends(book, (0,)), lambda: run_to(book, (0,), end),
+                 lambda: one_row_run_to(book, (0,), end), lambda: always(book, (0,), 0, 1), lambda: events(book, (0,)),
+                 lambda: kept(book, (0,)), lambda: comes(book, (0,), end)[1])
+        for call in calls:
+            one, other = call(), call()
+            self.assertIs(type(one), list)
+            self.assertTrue(same(one, other))
+            one.append("more")
+            self.assertTrue(same(call(), other))
+
+    def test_arguments_are_not_changed(self):
+        book, plan = ((("set", 1, 1), ("store", 1, 0, 0)),), (1, 1, 1, 1, 1)
+        steps, cores, weather, done = [("do", 0)] * 2 + [("flush", 0)], [0, 0], [5, 10 ** 59], [("fetch", 0), ("retire", 0)]
+        before = repr((steps, cores, weather, done))
+        plain_run(book, (0,), steps)
+        one_row_run(book, (0,), cores)
+        run_by(plan, book, (0,), weather)
+        bridge(plan, book, (0,), done)
+        is_bridge(plan, book, (0,), done, steps)
+        run_leads(book, (0,), ends(book, (0,))[0], steps)
+        choice_of(book, (0,), steps)
+        self.assertEqual(repr((steps, cores, weather, done)), before)
 
 
 if __name__ == "__main__":

@@ -472,6 +472,13 @@ class Steady(unittest.TestCase):
             ("drop", 0, 0), ("out", 0), ("ask", 0, 1, "read"), ("out", 0), ("in", 0), run(4), RETIRE])
         self.assertEqual(seen(plan, stand), (((5, (0, 5, 7, 5, 7, 0, 0, 0), ()),), (7, 7)))
 
+    def test_the_least_line_is_dropped(self):
+        rows = tuple(("load", 1, 0, k) for k in (2, 1, 3, 0, 1))
+        for room, drops in ((1, [2, 1, 3, 0]), (2, [1, 2, 0]), (3, [1, 0]), (4, [])):
+            done, stand = steady((4, 1, room, 1, 1), (rows,), (5, 6, 7, 8), 200)
+            self.assertEqual([deed[2] for deed in done if deed[0] == "drop"], drops)
+            self.assertEqual(seen((4, 1, room, 1, 1), stand)[0][0][:2], (5, (0, 6, 0, 0, 0, 0, 0, 0)))
+
     def test_turns(self):
         plan, book = (1, 1, 1, 1, 1), ((("gap",),), (("gap",), ("gap",)))
         self.assertEqual(steady(plan, book, (0,), 0), ([], first(plan, book, (0,))))

@@ -305,18 +305,89 @@ class Takes(unittest.TestCase):
         self.assertIs(paper_takes((rows,), (0,), end, ("first", 0, 1, ("first", 1, 0, ring, ring), ring)), False)
         self.assertIs(paper_takes((rows[:2],), (0,), (((0, 1, 0, 0, 0, 0, 0, 0),), (3,)), ("cell", 0)), True)
 
+    def test_what_a_first_may_order(self):
+        rows = (("set", 1, 1), ("store", 1, 0, 0), ("set", 1, 2), ("store", 1, 0, 0), ("load", 3, 0, 0), ("store", 1, 0, 1),
+                ("fence",), ("fence",))
+        end = (((0, 2, 0, 9, 0, 0, 0, 0),), (1, 2))
+        cell, ring, both = ("cell", 0), ("ring", "own", (0, 1)), ("ring", "behind", (0, 1))
+        good = ("first", 0, 1, cell, ring)
+        self.assertIs(paper_takes((rows,), (0, 0), end, good), True)
+        # No pair is ordered twice, in either sequence.
+        for paper in (("first", 0, 1, ("first", 0, 1, cell, both), ring), ("first", 0, 1, ("first", 1, 0, both, cell), ring),
+                      ("first", 1, 0, ring, ("first", 0, 1, cell, both)), ("first", 0, 1, cell, ("first", 0, 1, both, ring)),
+                      ("first", 0, 1, cell, ("first", 1, 0, ring, both))):
+            self.assertIs(paper_takes((rows,), (0, 0), end, paper), False)
+            self.assertEqual(paper_size(paper), 3)
+        # Only different writes of one cell are ordered; the papers inside would hold.
+        for one, other in ((0, 0), (0, 2), (2, 0), (0, 3), (3, 1), (4, 5), (4, 0), (2, 2)):
+            self.assertIs(paper_takes((rows,), (0, 0), end, ("first", one, other, good, good)), False)
+        wrong = (((0, 3, 0, 9, 0, 0, 0, 0),), (1, 2))
+        for one, other, right in ((0, 1, True), (1, 0, True), (0, 0, False), (0, 2, False), (2, 1, False), (0, 3, False),
+                                  (4, 5, False), (-1, 0, False), (0, 6, False)):
+            paper = ("first", one, other, ("word", 0, 1), ("word", 0, 1))
+            check_boolean(self, right, paper_takes((rows,), (0, 0), wrong, paper))
+
+    def test_what_a_read_may_pick_for(self):
+        rows = (("set", 1, 1), ("store", 1, 0, 0), ("swap", 2, 1, 0, 0), ("load", 3, 0, 0), ("fence",), ("addto", 4, 1, 0, 1))
+        end = (((0, 7, 0, 0, 0, 0, 0, 0),), (1, 2))
+        leaf = ("word", 0, 1)
+        for event, sources in ((0, (-1, 1)), (0, (-1, 0, 1)), (1, (-1, 0)), (1, (-1, 0, 1)), (2, (-1, 0, 1)), (2, (-1, 0)),
+                               (3, (-1,)), (4, (-1,)), (4, (-1, 4)), (5, (-1,)), (-1, (-1,)), (True, (-1, 0)), (2, (-1, False, True)),
+                               (2, (0, 1)), (2, (-1, 1, 0)), (2, (0, 1, -1)), (2, (-1, 0, 1, 3))):
+            paper = ("read", event, tuple((source, leaf) for source in sources))
+            good = any(same((event, sources), one) for one in ((1, (-1, 0)), (2, (-1, 0, 1)), (4, (-1,))))
+            check_boolean(self, good, paper_takes((rows,), (0, 0), end, paper))
+            check_boolean(self, good, paper_takes((rows,), (0, 0), end, ("first", 0, 1, paper, paper)))
+
+    def test_rings_of_different_events(self):
+        rows = (("set", 1, 1), ("store", 1, 0, 0), ("set", 1, 2), ("store", 1, 0, 0))
+        end = (((0, 2, 0, 0, 0, 0, 0, 0),), (1,))
+        for events_, good in (((0, 1), True), ((1, 0), True), ((0, 1, 0, 1), False), ((0, 1, 1), False), ((0, 1, 0), False),
+                              ((0, 2), False), ((-1, 0), False), ((0, True), False), ((False, 1), False), ((0,), False)):
+            for kind in ("own", "behind"):
+                paper = ("first", 0, 1, ("cell", 0), ("ring", kind, events_))
+                check_boolean(self, good, paper_takes((rows,), (0,), end, paper))
+
     def test_a_chain_of_ordered_pairs(self):
         book = tuple((("set", 1, n + 1), ("store", 1, 0, 0)) for n in range(3))
-        end = (tuple((0, n + 1, 0, 0, 0, 0, 0, 0) for n in range(3)), (1,))
-        def cell(first, second):
-            return self.agree(book, (0,), end, ("first", *first, ("first", *second, ("cell", 0), ("word", 0, 0)), ("word", 0, 0)))
+        end = (((9, 1, 0, 0, 0, 0, 0, 0),) + tuple((0, n + 1, 0, 0, 0, 0, 0, 0) for n in (1, 2)), (4,))
+        leaf = ("word", 0, 0)
         kinds = [(a, b) for a in range(3) for b in range(3) if a != b]
+        good = {}
         for first in kinds:
             for second in kinds:
-                cell(first, second)
-        checker = Checker(book, (0,), end)
-        self.assertTrue(checker.last_word(0, {}, ((0, 1), (1, 2))) == 3)
-        self.assertIs(checker.last_word(0, {}, ((0, 2), (0, 1))), None)
+                paper = ("first", *first, ("first", *second, ("cell", 0), leaf), leaf)
+                if self.agree(book, (0,), end, paper):
+                    good[(first, second)] = True
+        self.assertEqual(sorted(good), sorted(
+            (one, other) for one in kinds for other in kinds if set(one) != set(other) and (
+                one[1] == other[1] or one[1] == other[0] or one[0] == other[1])))
+
+    def test_a_chain_that_goes_round(self):
+        book = tuple((("set", 1, n + 1), ("store", 1, 0, 0)) for n in range(4))
+        end = (((9, 1, 0, 0, 0, 0, 0, 0),) + tuple((0, n + 1, 0, 0, 0, 0, 0, 0) for n in (1, 2, 3)), (7,))
+        leaf = ("word", 0, 0)
+        for pairs, good in ((((0, 1), (1, 2), (2, 0)), False), (((0, 1), (1, 2), (2, 3)), True), (((3, 0), (0, 1), (1, 2)), True),
+                            (((1, 0), (0, 2), (2, 3)), True), (((0, 3), (1, 3), (2, 3)), True), (((0, 3), (1, 3)), False),
+                            (((3, 0), (3, 1), (3, 2)), False), (((0, 1), (1, 2), (2, 0), (2, 3)), True)):
+            paper = ("cell", 0)
+            for pair in reversed(pairs):
+                paper = ("first", *pair, paper, leaf)
+            self.assertEqual(self.agree(book, (0,), end, paper), good)
+
+        paper = ("cell", 0)
+        for pair in ((2, 0), (1, 2), (0, 1)):
+            paper = ("first", *pair, paper, leaf)
+        self.assertIs(self.agree(book[:3], (0,), (end[0][:3], end[1]), paper), False)
+
+    def test_numbers_below_zero(self):
+        end = (((0, 1, 0, 0, 0, 0, 0, 0), (0, 1, 0, 0, 0, 0, 0, 9)), (1, 1))
+        for paper, good in ((("word", 1, 7), True), (("word", -1, 7), False), (("word", 1, -1), False), (("word", 2, 7), False),
+                            (("word", 1, 8), False), (("cell", -1), False), (("cell", 2), False)):
+            check_boolean(self, good, paper_takes(HANDED, (0, 0), end, paper))
+        unwritten = (((0, 1, 0, 0, 0, 0, 0, 0),), (9, 9))
+        for paper, good in ((("cell", 1), True), (("cell", -1), False), (("cell", 2), False), (("cell", 0), True)):
+            check_boolean(self, good, paper_takes(((("set", 1, 1),),), (0, 0), unwritten, paper))
 
     def test_no_source_twice(self):
         book, end = ((("load", 1, 0, 0),),), (((0, 1, 0, 0, 0, 0, 0, 0),), (0,))
