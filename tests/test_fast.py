@@ -1,11 +1,13 @@
 import unittest
 
-from touchroad.copies import fits, memory_now
+from touchroad.copies import fits, memory_now, state_of
+from touchroad.ends import run_to
 from touchroad.errors import InvalidBook, InvalidMemory, InvalidNumber, InvalidPlan, NotLet
 from touchroad.fast import after, bridge, deeds, first, is_bridge, run_by, seen, steady, told
 from touchroad.plain import has_ended, plain_after, plain_first, plain_run, plain_steps
 from tests.helpers import (WRONG, Draw, Odd, check_boolean, check_examples, check_raises, drawn_book, leads_on, same,
                            variants)
+from tests.reference import all_ends, all_stands
 from tests.reference_fast import Fast
 
 EXAMPLES = """
@@ -497,6 +499,67 @@ class Steady(unittest.TestCase):
         done, stand = steady(plan, book, (0, 0), 20000)
         self.assertGreater(memory_now(plan, stand[1])[0], 1000)
         self.assertEqual(len(bridge(plan, book, (0, 0), done)), len([deed for deed in done if deed[0] == "retire"]))
+
+
+class Guarantees(unittest.TestCase):
+    """Each end of the plain machine is one of a fast machine, if its plan allows as many late stores."""
+
+    def do(self, deed):
+        self.stand = after(self.plan, self.book, self.stand, deed)
+        self.done.append(deed)
+
+    def let(self, *names):
+        return [deed for deed in deeds(self.plan, self.book, self.stand) if deed[0] in names]
+
+    def bring(self, core, cell, kind):
+        line = cell // self.plan[1]
+        if kind == "own" and state_of(self.stand[1], core, line) == "owned":
+            return
+        if kind == "read" and state_of(self.stand[1], core, line) is not None:
+            return
+        if ("ask", core, line, kind) not in self.let("ask"):
+            self.do([deed for deed in self.let("drop") if deed[1] == core][0])
+        self.do(("ask", core, line, kind))
+        while self.let("out", "in"):
+            self.do(self.let("out", "in")[0])
+
+    def step(self, name, core):
+        """Do the deeds for one step, with a window of one instruction."""
+        if name == "flush":
+            self.bring(core, self.stand[0][core][2][0][1], "own")
+            self.do(("flush", core))
+            return
+        self.do(("fetch", core))
+        tag, row, sources = self.stand[0][core][5][0][:3]
+        instruction = self.book[core][row]
+        if instruction[0] in ("load", "swap", "addto"):
+            cell = (sources[-1][1] + instruction[-1]) % self.plan[0]
+            if instruction[0] != "load" or cell not in [store[1] for store in self.stand[0][core][2]]:
+                self.bring(core, cell, "read" if instruction[0] == "load" else "own")
+        if ("run", core, tag) in self.let("run"):
+            self.do(("run", core, tag))
+        self.do(("retire", core))
+
+    def test_each_end_is_one_of_a_fast_machine(self):
+        draw, many = Draw(61), 0
+        while many < 80:
+            self.book = drawn_book(draw, 1 + draw.below(3), 5)
+            memory = tuple(draw.word() for _ in range(1 + draw.below(4)))
+            stands = all_stands(self.book, memory, most=500)
+            if not stands or max(len(core[2]) for stand in stands for core in stand[0]) > 4:
+                continue
+            room, line = 1 + draw.below(2), 2 if len(memory) % 2 == 0 else 1
+            for one in all_ends(self.book, memory)[:6]:
+                many += 1
+                run_, self.done = run_to(self.book, memory, one), []
+                self.plan = (len(memory), line, room, 4, 1)
+                self.stand = first(self.plan, self.book, memory)
+                for name, core in run_:
+                    self.step(name, core)
+                self.assertEqual(bridge(self.plan, self.book, memory, self.done), run_)
+                stand = seen(self.plan, self.stand)
+                self.assertIs(has_ended(self.book, stand), True)
+                self.assertEqual((tuple(core[1] for core in stand[0]), stand[1]), one)
 
 
 class Errors(unittest.TestCase):
