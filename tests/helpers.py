@@ -164,3 +164,48 @@ def leads_on(book):
     """Whether no row leads back, to itself or to an earlier row."""
     return all(instruction[-1] > row for rows in book for row, instruction in enumerate(rows)
                if instruction[0] in ("ifzero", "jump"))
+
+
+LIVELY_NAMES = ("store", "load", "store", "load", "gap", "store", "load", "swap", "fence", "addto", "ifzero", "add")
+
+
+def lively_book(draw, cores, rows, names=LIVELY_NAMES, cells=2):
+    """A book in which each core stores its own words and loads cells that others store to."""
+    book = []
+    for core in range(cores):
+        many = 1 + draw.below(rows)
+        made = []
+        if draw.below(4):
+            made.append(("set", 1, core + 1))
+        while len(made) < many:
+            name = draw.one_of(names)
+            cell = draw.below(cells)
+            target = 2 + sum(i[0] == "load" for i in made) % 4
+            if name in ("load", "store"):
+                made.append((name, target if name == "load" else draw.one_of((1, 1, 0, 2)), 7, cell))
+            elif name in ("swap", "addto"):
+                made.append((name, target, 1, 7, cell))
+            elif name == "ifzero":
+                made.append(("ifzero", 2, len(made) + 1 + draw.below(many - len(made))))
+            elif name == "add":
+                made.append(("add", 1, 1, draw.one_of((1, 2))))
+            else:
+                made.append((name,))
+        book.append(tuple(made))
+    return tuple(book)
+
+
+def passing_book(draw):
+    """A book in which one core stores to several cells and another loads them, or does the same."""
+    def between():
+        return ((draw.one_of(("gap", "fence", "gap")),),) if draw.below(3) == 0 else ()
+    one, other, first = (("set", 1, 1 + draw.below(2)),), (), draw.below(2)
+    if draw.below(4) == 0:
+        one += (("store", 1, 7, draw.below(2)),)
+    one += (("store", 1, 7, first),) + between() + (("store", 1, 7, 1 - first if draw.below(4) else first),)
+    if draw.below(3) == 0:
+        one += between() + (("load", 2, 7, draw.below(2)),)
+    if draw.below(4) == 0:
+        other += (("set", 1, 3), ("store", 1, 7, draw.below(2))) + between()
+    other += (("load", 2, 7, 1 - first),) + between() + (("load", 3, 7, first if draw.below(4) else 1 - first),)
+    return (one, other)

@@ -71,8 +71,8 @@ def end_of_choice(sketch, choice):
     return registers, tuple(memory)
 
 
-def run_of_choice(sketch, book, choice):
-    """Return a run whose choice is one without a ring.
+def sorted_run_of_choice(sketch, book, choice):
+    """Return a run of the sorted machine whose choice is one without a ring in the order of the sketch.
 
     The events come to memory in a sequence that behind allows; a load, a fence, a swap and an addto
     when they are done, a store when it is flushed.
@@ -83,14 +83,19 @@ def run_of_choice(sketch, book, choice):
     steps = []
     done = [0] * len(book)
     for event in reversed(events):
-        core, row, name, _ = sketch.events[event]
+        core, row, name, cell = sketch.events[event]
         steps.extend([("do", core)] * (row + 1 - done[core]))
         done[core] = max(done[core], row + 1)
         if name == "store":
-            steps.append(("flush", core))
+            steps.append(("flush", core, cell))
     for core, rows in enumerate(book):
         steps.extend([("do", core)] * (len(rows_before_stop(rows)) - done[core]))
     return steps
+
+
+def run_of_choice(sketch, book, choice):
+    """Return a run of the plain machine whose choice is one without a ring."""
+    return [step[:2] for step in sorted_run_of_choice(sketch, book, choice)]
 
 
 def source_now(sketch, late, orders, event):
@@ -100,16 +105,24 @@ def source_now(sketch, late, orders, event):
     return found[-1]
 
 
+def flushed_index(sketch, late, step):
+    """Return which of the late stores of a core a flush writes, of the plain or of the sorted machine."""
+    return 0 if len(step) == 2 else [sketch.events[event][3] for event in late].index(step[2])
+
+
 def choice_of_steps(sketch, book, steps):
-    """Return the choice of a run."""
+    """Return the choice of a run of the plain or of the sorted machine."""
     numbers = {(core, row): event for event, (core, row, _, _) in enumerate(sketch.events)}
     done = [0] * len(book)
     late = [[] for _ in book]
     orders = [[] for _ in sketch.memory]
     sources = []
-    for name, core in steps:
-        event = late[core].pop(0) if name == "flush" else numbers.get((core, done[core]))
-        if name == "do":
+    for step in steps:
+        name, core = step[:2]
+        if name == "flush":
+            event = late[core].pop(flushed_index(sketch, late[core], step))
+        else:
+            event = numbers.get((core, done[core]))
             done[core] += 1
         if event is None:
             continue

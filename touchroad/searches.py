@@ -17,9 +17,12 @@ def one_row_moves(book, stand):
     return [(core, after_turn(book, stand, core)) for core in range(len(book)) if is_turn(book, stand, core)]
 
 
-def reached(book, memory, moves):
-    """Return a dict of all stands that can be reached, each with (stand before, step); None for the first."""
-    start = first_stand(book, memory)
+def reached_from(book, start, moves):
+    """Return a dict of all stands that can be reached, each with (stand before, step); None for the first.
+
+    A stand that stands earlier in the dict is reached by a shorter list of steps, or by one of the same
+    length that stands before its own if the moves are sorted by steps.
+    """
     before = {start: None}
     waiting = [start]
     at = 0
@@ -33,6 +36,11 @@ def reached(book, memory, moves):
     return before
 
 
+def reached(book, memory, moves):
+    """Return what reached_from returns for the first stand."""
+    return reached_from(book, first_stand(book, memory), moves)
+
+
 def ends_by(book, memory, moves):
     """Return the ascending list of all ends."""
     found = {}
@@ -42,14 +50,19 @@ def ends_by(book, memory, moves):
     return sorted(found)
 
 
-def way_to(before, stand):
-    """Return the list of the steps that lead to a stand."""
-    steps = []
+def links_to(before, stand):
+    """Return the list of the tuples (stand, step) of the way to a stand."""
+    links = []
     link = before[stand]
     while link is not None:
-        steps.append(link[1])
+        links.append(link)
         link = before[link[0]]
-    return steps[::-1]
+    return links[::-1]
+
+
+def way_to(before, stand):
+    """Return the list of the steps that lead to a stand."""
+    return [step for _, step in links_to(before, stand)]
 
 
 def run_by_moves(book, memory, end, moves):

@@ -5,7 +5,8 @@ the set of the events behind each event.
 """
 
 from touchroad.books import SUMS, reads, result, writes
-from touchroad.stands import ALONE
+from touchroad.keeping import kept_order
+from touchroad.places import no_places
 
 TAKING = ("load", "swap", "addto")
 GIVING = ("store", "swap", "addto")
@@ -65,7 +66,7 @@ class Sketch:
         for event, node in enumerate(self.given):
             if node is not None:
                 self.writers[self.events[event][3]].append(event)
-        self.kept = kept_order(self.events)
+        self.kept = kept_order("plain", book, self.events, no_places(book), no_places(book))
         self.own = own_order(self.events)
 
 
@@ -117,22 +118,6 @@ def add_core(sketch, core, rows):
             one, other = registers[instruction[2]], registers[instruction[3]]
             registers[instruction[1]] = sum_node(sketch, instruction, one, other)
     return registers
-
-
-def kept_order(events):
-    """Return the order of events of one core that the plain machine keeps."""
-    order = []
-    for event, (core, _, name, _) in enumerate(events):
-        behind = 0
-        passes = name == "store"
-        for later in range(event + 1, len(events)):
-            if events[later][0] != core:
-                break
-            passes = passes and events[later][2] not in ALONE
-            if not passes or events[later][2] != "load":
-                behind |= 1 << later
-        order.append(behind)
-    return order
 
 
 def own_order(events):

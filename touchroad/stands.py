@@ -50,10 +50,10 @@ def row_after(instruction, row, registers):
 
 
 def loaded_word(stores, memory, cell):
-    """Return the word that a load of a cell takes."""
-    for place, word in reversed(stores):
-        if place == cell:
-            return word
+    """Return the word that a load of a cell takes; the sorted machine has marks, each None, among the late stores."""
+    for store in reversed(stores):
+        if store is not None and store[0] == cell:
+            return store[1]
     return memory[cell]
 
 
