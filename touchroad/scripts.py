@@ -1,0 +1,126 @@
+"""What the hands of a program do on their paths, for programs that have been checked."""
+
+from touchroad.statements import SETTING, TOUCHES
+
+
+class Walk:
+    """What a hand does by some outcomes.
+
+    at counts the outcomes that were used. stuck is the variable of the if for which none was left, or None.
+    """
+
+    def __init__(self, outcomes):
+        self.outcomes = outcomes
+        self.at = 0
+        self.actions = []
+        self.stuck = None
+
+
+def walk_through(walk, statements):
+    """Add what statements do to a walk."""
+    for statement in statements:
+        if walk.stuck is not None:
+            return
+        if statement[0] == "if" and walk.at == len(walk.outcomes):
+            walk.stuck = statement[1]
+        elif statement[0] == "if":
+            outcome = walk.outcomes[walk.at]
+            walk.at += 1
+            walk.actions.append(("branch", statement[1], outcome))
+            walk_through(walk, statement[2] if outcome else statement[3])
+        elif statement[0] == "again":
+            for _ in range(statement[1]):
+                walk_through(walk, statement[2])
+        else:
+            walk.actions.append(statement)
+
+
+def walk_of(hand, outcomes):
+    """Return the walk of a hand by some outcomes."""
+    walk = Walk(outcomes)
+    walk_through(walk, hand)
+    return walk
+
+
+def is_path(hand, value):
+    """Return whether any object is a path of a hand."""
+    if not isinstance(value, tuple) or not all([isinstance(outcome, bool) for outcome in value]):
+        return False
+    walk = walk_of(hand, value)
+    return walk.stuck is None and walk.at == len(value)
+
+
+def are_paths(program, value):
+    """Return whether any object is paths of a program."""
+    if not isinstance(value, tuple) or len(value) != len(program):
+        return False
+    return all([is_path(hand, path) for hand, path in zip(program, value)])
+
+
+def paths_through(statements):
+    """Return the list of the paths of statements."""
+    paths = [()]
+    for statement in statements:
+        if statement[0] == "if":
+            following = [(False,) + path for path in paths_through(statement[3])]
+            following.extend([(True,) + path for path in paths_through(statement[2])])
+            paths = [path + more for path in paths for more in following]
+        elif statement[0] == "again":
+            following = paths_through(statement[2])
+            for _ in range(statement[1]):
+                paths = [path + more for path in paths for more in following]
+    return paths
+
+
+def all_paths(program):
+    """Return the ascending list of the paths of a program."""
+    found = [()]
+    for hand in program:
+        paths = sorted(paths_through(hand))
+        found = [before + (path,) for before in found for path in paths]
+    return found
+
+
+def touches_by_read_word(actions):
+    """Return whether the variable on which the cell of some touch depends has a read word."""
+    read = {}
+    for action in actions:
+        name = action[0]
+        if name in TOUCHES:
+            if name != "whole" and action[-3] in read:
+                return True
+            if name in SETTING:
+                read[action[1]] = True
+        elif name != "branch":
+            if name != "set" and (action[2] in read or action[3] in read):
+                read[action[1]] = True
+            else:
+                read.pop(action[1], None)
+    return False
+
+
+def is_short_program(program):
+    """Return whether a program is short."""
+    return not any([
+        touches_by_read_word(walk_of(hand, path).actions)
+        for hand in program
+        for path in paths_through(hand)
+    ])
+
+
+class Script:
+    """A program and the walks of its hands that were asked for, by hand and outcomes."""
+
+    def __init__(self, program):
+        self.program = program
+        self.walks = {}
+
+
+def next_action(script, hand, path, done, words):
+    """Return the next action of a hand after so many actions, None if there is none."""
+    if (hand, path) not in script.walks:
+        script.walks[hand, path] = walk_of(script.program[hand], path)
+    walk = script.walks[hand, path]
+    if done < len(walk.actions):
+        return walk.actions[done]
+    return None if walk.stuck is None else ("branch", walk.stuck, words[walk.stuck] != 0)
