@@ -252,6 +252,9 @@ class Rules(unittest.TestCase):
         check_boolean(self, True, is_broken(program, (0, 0), fine, ("branch", 0, 1)))
         check_boolean(self, False, is_broken(program, (0, 0), fine, ("await", 3)))
         check_boolean(self, True, is_broken(program, (5, 5), fine, ("await", 3)))
+        for name in ("wait", "word", "cell", "circle", "Await", "", "branch"):
+            check_boolean(self, False, is_broken(program, (5, 5), fine, (name, 3)))
+            check_boolean(self, False, is_broken(program, (0, 0), fine, (name + "x", 0, 1)))
         self.assertIsNone(broken(program, (5, 0), (((True,), ()), ((0, -1), (2, -1), (3, -1)), ((4,), (1,), ()))))
 
     def test_a_round_alone(self):

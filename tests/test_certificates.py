@@ -302,6 +302,74 @@ class Decided(unittest.TestCase):
             check_boolean(self, expected, certifies(alone, (7,), end, value_with(other)))
             self.assertEqual(expected, other == ("circle", (0, 1)))
 
+    def test_leaves_under_drawn_picks(self):
+        """Each leaf beside leaves that are always right, since variable 5 is never set and the end has 9 for it."""
+        counts = {}
+        for names, seed in ((told.STATEMENTS, 307), (UPDATES, 308), (("put", "swap", "addto", "whole"), 309), (("get", "await", "put", "set"), 310)):
+            for draw, program, memory in small_programs(seed, 25, 20000, hands=3, size=4, names=names):
+                if len(told.paths_of(program)) > 4:
+                    continue
+                end = (((0, 0, 0, 0, 0, 9),) + ((0,) * 6,) * (len(program) - 1), memory)
+                always = ("word", 0, 5)
+                for paths in told.paths_of(program):
+                    checker = Checker(program, memory, end, paths)
+                    for _ in range(25):
+                        leaf = self.drawn_leaf(draw, len(checker.events))
+                        tree = self.around(draw, checker, leaf, always, draw.below(6) if checker.events else 0)
+                        value = ("paths", tuple((own, tree if own == paths else always) for own in told.paths_of(program)))
+                        good = takes(program, memory, end, value)
+                        key = (leaf[0] if leaf else None, good)
+                        counts[key] = counts.get(key, 0) + 1
+                        check_boolean(self, good, certifies(program, memory, end, value))
+        for name in ("round", "circle", "back", "between", "branch", "await", "word", "cell"):
+            self.assertTrue(name == "between" or counts.get((name, True), 0) > 0, (name, counts))
+            self.assertGreater(counts.get((name, False), 0), 10, (name, counts))
+
+    def drawn_leaf(self, draw, many):
+        some = [draw.below(max(1, many)) for _ in range(4)]
+        return draw.one_of((("round", tuple(some[:2])), ("circle", tuple(some[:2])), ("circle", tuple(some[:3])), ("back", tuple(some[:2]), tuple(some[1::-1])),
+                            ("between", some[0], some[1]), ("between", some[0], some[1]), ("branch", draw.below(2), draw.below(4)), ("await", some[0]),
+                            ("word", draw.below(2), draw.below(5)), ("cell", draw.below(3)), ("back", tuple(some[:3]), (some[2], some[0])), ()))
+
+    def around(self, draw, checker, leaf, always, levels):
+        """A tree of drawn decisions in which the leaf stands once."""
+        tree, done = leaf, []
+        for _ in range(levels):
+            i = draw.below(len(checker.events))
+            if draw.below(2) and checker.reads(i) and i not in done:
+                sources = [-1] + [w for w in checker.writers(checker.events[i][3]) if w != i]
+                at = draw.one_of(sources)
+                tree = ("read", i, tuple((source, tree if source == at else always) for source in sources))
+                done.append(i)
+            elif checker.writes(i):
+                others = [w for w in checker.writers(checker.events[i][3]) if w != i and (i, w) not in done and (w, i) not in done]
+                if others:
+                    k = draw.one_of(others)
+                    tree = ("first", i, k, tree, always) if draw.below(2) else ("first", i, k, always, tree)
+                    done.append((i, k))
+        return tree
+
+    def test_between_and_await_need_what_is_chosen(self):
+        program = ((("swap", 1, 0, 5, 0, "loose"),), (("swap", 1, 0, 5, 0, "loose"),), (("put", 0, 5, 0, "loose"),))
+        end = (((0, 0, 0, 0, 0, 9),) + ((0,) * 6,) * 2, (0,))
+        right = ("word", 0, 5)
+
+        def read(source, inner):
+            return ("read", 1, tuple((own, inner if own == source else right) for own in (-1, 0, 2)))
+        for leaf, good in ((("between", 1, 2), True), (("between", 1, 0), False), (("between", 2, 0), False), (("between", 0, 2), False), (("between", 2, 1), False)):
+            ordered = ("first", 0, 2, ("first", 2, 1, leaf, right), right)
+            late = ("first", 2, 1, leaf, right)
+            for tree, expected in ((read(0, ordered), good), (ordered, False), (read(0, late), False), (read(-1, late), good), (read(2, ordered), False)):
+                check_boolean(self, expected, certifies(program, (7,), end, ("paths", ((((), (), ()), tree),))))
+        program = ((("get", 1, 5, 0, "loose"), ("await", 1, 5, 1, "loose")),)
+        end = (((0, 0, 0, 0, 0, 9),), (7, 8))
+        for first, second in ((0, 1), (1, 0)):
+            both = ("read", first, ((-1, ("read", second, ((-1, ("await", 1)),))),))
+            check_boolean(self, True, certifies(program, (7, 8), end, ("paths", ((((),), both),))))
+            check_boolean(self, False, certifies(program, (7, 7), (end[0], (7, 7)), ("paths", ((((),), both),))))
+            one = ("read", first, ((-1, ("await", 1)),))
+            check_boolean(self, False, certifies(program, (7, 8), end, ("paths", ((((),), one),))))
+
     def test_nothing_is_chosen_or_ordered_twice(self):
         swaps = ((("put", 0, 5, 0, "loose"),), (("put", 0, 5, 0, "loose"),))
         end = (((0,) * 6,) * 2, (9,))

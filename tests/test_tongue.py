@@ -1,3 +1,4 @@
+import itertools
 import unittest
 
 from touchroad.errors import InvalidMemory, InvalidPaths, InvalidProgram
@@ -37,9 +38,9 @@ NO_STATEMENTS = (
 )
 
 
-def nested(levels, inside=()):
+def nested(levels, inside=(), kinds=(0, 1, 2)):
     for level in range(levels):
-        inside = (("if", 0, inside, ()),) if level % 2 else (("again", 1, inside),)
+        inside = ((("if", 0, inside, ()), ("if", 0, (), inside), ("again", 1, inside))[kinds[level % len(kinds)]],)
     return inside
 
 
@@ -84,10 +85,10 @@ class Statements(unittest.TestCase):
             check_boolean(self, 0 < many <= 23, is_program(((("again", 8, (whole,) * many),),)) and many > 0)
             check_boolean(self, many <= 23, is_statement(("if", 0, (whole,) * (many // 2), (whole,) * (many - many // 2))))
             check_boolean(self, many <= 22, is_program(((("if", 0, (("again", 1, (whole,) * many),), ()),),)))
-        for levels in range(8):
-            check_boolean(self, levels <= 4, is_program((nested(levels),)))
-            check_boolean(self, levels <= 3, is_program((nested(levels, (whole,)),)))
-            check_boolean(self, levels <= 4, not levels or is_statement(nested(levels)[0]))
+        for levels, kinds in itertools.product(range(8), ((0,), (1,), (2,), (0, 1, 2), (2, 1), (1, 0, 0))):
+            check_boolean(self, levels <= 4, is_program((nested(levels, (), kinds),)))
+            check_boolean(self, levels <= 3, is_program((nested(levels, (whole,), kinds),)))
+            check_boolean(self, levels <= 4, not levels or is_statement(nested(levels, (), kinds)[0]))
         check_boolean(self, True, is_program(((whole,) * 20 + nested(3, (whole,)),)))
         check_boolean(self, False, is_program(((whole,) * 21 + nested(3, (whole,)),)))
         check_boolean(self, False, is_program((nested(60),)))

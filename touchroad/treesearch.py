@@ -5,24 +5,23 @@ from touchroad.choices import end_of_choice, readers_of, sources_for
 from touchroad.decisions import with_source
 from touchroad.decisionsearch import choice_or_refusal
 from touchroad.paperwalk import wrong_cell, wrong_word
-from touchroad.relations import back_in, parted_by, step_order, under_order
+from touchroad.relations import back_in, step_order, under_order
 from touchroad.rings import ring_among
 from touchroad.sketches import known_words
 from touchroad.treewalk import takes_tree
 
 
 def rule_against(scene, picked, after):
-    """Return a tree without other trees that is against all behaviours with these picks, None if there is none."""
+    """Return a tree without other trees that is against all behaviours with these picks, None if there is none.
+
+    A write between an event that updates and its source makes a circle, so no tree between is needed.
+    """
     ring = ring_among(step_order(scene, picked), all_events(scene))
     if ring is not None:
         return ("round", ring)
     ring = ring_among(under_order(scene, picked, after), all_events(scene))
     if ring is not None:
         return ("circle", ring)
-    for event in picked:
-        write = parted_by(scene, picked, after, event)
-        if write is not None:
-            return ("between", event, write)
     back = back_in(scene, picked, after)
     if back is not None:
         return ("back",) + back

@@ -120,7 +120,7 @@ def after_write(stand, hand, touch, cell, index):
     """Return the stand after a touch wrote a new version behind the one with an index."""
     hands, cells = with_room(stand, cell, index)
     path, done, words, view = hands[hand]
-    old, old_view, updated = cells[cell][index]
+    old, old_view, _ = cells[cell][index]
     reads = touch[0] in READING
     view = replaced(view, cell, index + 1)
     new_view = replaced((0,) * len(view), cell, index + 1)
@@ -129,7 +129,7 @@ def after_write(stand, hand, touch, cell, index):
     if is_giving(touch):
         new_view = merged(new_view, view)
     new = (written_word(touch, words, old), new_view, False)
-    versions = cells[cell][:index] + ((old, old_view, updated or reads), new) + cells[cell][index + 1:]
+    versions = cells[cell][:index] + ((old, old_view, reads), new) + cells[cell][index + 1:]
     return replaced(hands, hand, (path, done, words, view)), replaced(cells, cell, versions)
 
 
