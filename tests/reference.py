@@ -115,9 +115,8 @@ class Plain:
         return tuple(tuple(r) for r in self.regs), tuple(self.memory)
 
 
-def all_stands(book, memory, late=True, most=10 ** 9):
-    """Each stand that can be reached, with the machine at it; None if there are more than most."""
-    first = Plain(book, memory, late)
+def reached_from(first, most=10 ** 9):
+    """Each stand that can be reached from a machine, with the machine at it; None if there are more than most."""
     found = {first.stand(): first}
     waiting = [first]
     while waiting:
@@ -133,5 +132,31 @@ def all_stands(book, memory, late=True, most=10 ** 9):
     return found
 
 
+def ends_in(stands):
+    return sorted({machine.end() for machine in stands.values() if machine.ended()})
+
+
+def is_stuck_somewhere(stands):
+    """Whether some stand leads to no end, by following the steps onward again and again."""
+    good = {stand for stand, machine in stands.items() if machine.ended()}
+    onward = {}
+    for stand, machine in stands.items():
+        onward[stand] = []
+        for step in machine.steps():
+            other = machine.twin()
+            other.go(step)
+            onward[stand].append(other.stand())
+    growing = True
+    while growing:
+        more = {stand for stand in stands if stand not in good and any(o in good for o in onward[stand])}
+        good |= more
+        growing = bool(more)
+    return len(good) < len(stands)
+
+
+def all_stands(book, memory, late=True, most=10 ** 9):
+    return reached_from(Plain(book, memory, late), most)
+
+
 def all_ends(book, memory, late=True):
-    return sorted({machine.end() for machine in all_stands(book, memory, late).values() if machine.ended()})
+    return ends_in(all_stands(book, memory, late))

@@ -179,7 +179,7 @@ class Interleaved(Hands):
         if written is not None and not hidden:
             self.memory[cell] = written
 
-    def state(self):
+    def stand(self):
         return tuple(self.path), tuple(self.done), tuple(self.words), tuple(self.memory)
 
     def ended(self):
@@ -187,26 +187,6 @@ class Interleaved(Hands):
 
     def end(self):
         return tuple(self.words), tuple(self.memory)
-
-
-def all_states(first, most=10 ** 9):
-    """Each state that can be reached, with the machine at it; None if there are more than most."""
-    found, waiting = {first.state(): first}, [first]
-    while waiting:
-        machine = waiting.pop()
-        for step in machine.steps():
-            other = machine.twin()
-            other.go(step)
-            if other.state() not in found:
-                if len(found) == most:
-                    return None
-                found[other.state()] = other
-                waiting.append(other)
-    return found
-
-
-def ends_in(states):
-    return sorted({machine.end() for machine in states.values() if machine.ended()})
 
 
 class Viewing(Hands):
@@ -286,8 +266,6 @@ class Viewing(Hands):
             return tuple(names.index(view[cell]) for cell, names in enumerate(self.cells))
         return (tuple((self.path[h], self.done[h], self.words[h], indexes(self.views[h])) for h in range(len(self.rest))),
                 tuple(tuple((self.word[n], indexes(self.seen_by[n]), n in self.updated) for n in names) for names in self.cells))
-
-    state = stand
 
     def ended(self):
         return all(self.next(h) is None for h in range(len(self.rest)))

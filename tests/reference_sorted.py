@@ -2,7 +2,7 @@
 
 import itertools
 
-from tests.reference import Plain
+from tests.reference import Plain, ends_in, reached_from
 
 
 class Sorted(Plain):
@@ -77,24 +77,11 @@ class Sorted(Plain):
 
 
 def sorted_stands(book, memory, most=10 ** 9):
-    first = Sorted(book, memory)
-    found = {first.stand(): first}
-    waiting = [first]
-    while waiting:
-        machine = waiting.pop()
-        for step in machine.steps():
-            other = machine.twin()
-            other.go(step)
-            if other.stand() not in found:
-                if len(found) == most:
-                    return None
-                found[other.stand()] = other
-                waiting.append(other)
-    return found
+    return reached_from(Sorted(book, memory), most)
 
 
 def sorted_all_ends(book, memory):
-    return sorted({machine.end() for machine in sorted_stands(book, memory).values() if machine.ended()})
+    return ends_in(sorted_stands(book, memory))
 
 
 def with_bars(book, fences, gaps):

@@ -40,10 +40,6 @@ def small_programs(seed, many, most=150, hands=3, size=4, names=told.STATEMENTS,
             yield draw, program, memory
 
 
-def pairs_closed(pairs):
-    return told.closure(pairs)
-
-
 def what_is_broken(one):
     """All kinds of what breaks a behaviour, in their sequence."""
     kinds = []

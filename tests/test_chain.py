@@ -4,7 +4,7 @@ import unittest
 from touchroad.chain import (bad_sorted_choice, barred, ends_of, gapped, least_bars, least_gaps, least_gaps_for_all, parting,
                              plain_for_all)
 from touchroad.ends import ends, one_row_ends
-from touchroad.errors import InvalidBook, InvalidMachine, InvalidMemory, InvalidNumber, InvalidPlaces, NotShort
+from touchroad.errors import InvalidBook, InvalidMachine, InvalidMemory, InvalidPlaces
 from touchroad.events import events, is_short, ring
 from touchroad.fences import fenced
 from touchroad.sortedevents import sorted_ring
@@ -14,7 +14,7 @@ from tests.helpers import (STRAIGHT_NAMES, WRONG, Draw, check_boolean, check_exa
 from tests.reference import all_ends, all_stands
 from tests.reference_sorted import all_places, no_bars, sorted_all_ends, sorted_stands, with_bars
 from tests.test_events import all_choices
-from tests.test_fences import CROSSED, NO_PLACES, a_book
+from tests.test_fences import CROSSED, NO_PLACES, a_book, check_errors_for_all
 
 EXAMPLES = """
 >>> from touchroad.chain import ends_of, gapped, least_gaps, parting
@@ -266,16 +266,7 @@ class ForAll(unittest.TestCase):
         self.assertEqual(least_gaps_for_all((writer[:1] + (("load", 2, 7, 0),) + writer[1:], reader), 3), ((1, 3), ()))
 
     def test_errors_in_their_sequence(self):
-        calls = (plain_for_all, bad_sorted_choice, least_gaps_for_all)
-        for wrong in WRONG + (list(CROSSED), ((("jump", 2),),)):
-            for call in calls:
-                check_raises(self, InvalidBook, wrong, call, wrong, 0)
-        for wrong in (((("jump", 0),),), ((("ifzero", 0, 1),),), ((("load", 1, 0, 0), ("load", 1, 1, 0)),)):
-            for call in calls:
-                check_raises(self, NotShort, wrong, call, wrong, 0)
-        for wrong in (0, 33, -1, 10 ** 30):
-            for call in calls:
-                check_raises(self, InvalidNumber, wrong, call, CROSSED, wrong)
+        check_errors_for_all(self, (plain_for_all, bad_sorted_choice, least_gaps_for_all))
 
     def test_names(self):
         check_boolean(self, False, plain_for_all(book=HANDED, cells=2))

@@ -6,7 +6,7 @@ from touchroad.errors import InvalidBook, InvalidEnd, InvalidMemory, InvalidNumb
 from touchroad.fast import run_by, seen, steady
 from touchroad.plain import has_ended, one_row_run, plain_run
 from tests.helpers import WRONG, Draw, check_boolean, check_examples, check_raises, drawn_book, same, variants
-from tests.reference import Plain, all_ends, all_stands
+from tests.reference import Plain, all_ends, all_stands, is_stuck_somewhere
 
 EXAMPLES = """
 >>> from touchroad.ends import always, ends, late_end, one_row_ends, run_leads, run_to
@@ -18,24 +18,6 @@ EXAMPLES = """
 
 CROSSED = ((("set", 1, 1), ("store", 1, 0, 0), ("load", 2, 0, 1)), (("set", 1, 1), ("store", 1, 0, 1), ("load", 2, 0, 0)))
 CALLS_WITH_END = (run_to, run_leads, one_row_run_to, one_row_run_leads)
-
-
-def stuck(stands):
-    """Whether some stand leads to no end, by following the steps onward again and again."""
-    good = {stand for stand, machine in stands.items() if machine.ended()}
-    onward = {}
-    for stand, machine in stands.items():
-        onward[stand] = []
-        for step in machine.steps():
-            other = machine.twin()
-            other.go(step)
-            onward[stand].append(other.stand())
-    growing = True
-    while growing:
-        more = {stand for stand in stands if stand not in good and any(o in good for o in onward[stand])}
-        good |= more
-        growing = bool(more)
-    return len(good) < len(stands)
 
 
 def small_books(seed, many, most=400):
@@ -62,7 +44,7 @@ class Ends(unittest.TestCase):
             self.assertLessEqual(set(at_once), set(found))
             late = [one for one in found if one not in at_once]
             self.assertTrue(same(late_end(book, memory), late[0] if late else None))
-            check_boolean(self, stuck(stands), never_ends(book, memory))
+            check_boolean(self, is_stuck_somewhere(stands), never_ends(book, memory))
             for core in range(len(book)):
                 for number in (0, 1, 2, 3, 7):
                     words = sorted({one[0][core][number] for one in found})

@@ -66,6 +66,17 @@ def bad_ones(book, memory):
                   if ring(book, memory, choice) is None and not stays_free_if_all_is_kept(book, found, choice))
 
 
+def check_errors_for_all(case, calls):
+    """The errors of functions of a short book and a number of cells, in their sequence."""
+    for call in calls:
+        for wrong in WRONG + (list(CROSSED), ((("jump", 2),),)):
+            check_raises(case, InvalidBook, wrong, call, wrong, 0)
+        for wrong in (((("jump", 0),),), ((("ifzero", 0, 1),),), ((("load", 1, 0, 0), ("load", 1, 1, 0)),)):
+            check_raises(case, NotShort, wrong, call, wrong, 0)
+        for wrong in (0, 33, -1, 10 ** 30):
+            check_raises(case, InvalidNumber, wrong, call, CROSSED, wrong)
+
+
 class Fenced(unittest.TestCase):
     def test_examples(self):
         check_examples(self, EXAMPLES)
@@ -239,16 +250,7 @@ class ForAll(unittest.TestCase):
         self.assertEqual([least_fences(book, (0, 0)), least_for_all(book, 2)], [((), ()), ((1,), (1,))])
 
     def test_errors_in_their_sequence(self):
-        calls = (one_row_for_all, bad_choice, least_for_all)
-        for wrong in WRONG + (list(CROSSED), ((("jump", 2),),)):
-            for call in calls:
-                check_raises(self, InvalidBook, wrong, call, wrong, 0)
-        for wrong in (((("jump", 0),),), ((("ifzero", 0, 1),),), ((("load", 1, 0, 0), ("load", 1, 1, 0)),)):
-            for call in calls:
-                check_raises(self, NotShort, wrong, call, wrong, 0)
-        for wrong in (0, 33, -1, 10 ** 30):
-            for call in calls:
-                check_raises(self, InvalidNumber, wrong, call, CROSSED, wrong)
+        check_errors_for_all(self, (one_row_for_all, bad_choice, least_for_all))
 
     def test_names(self):
         check_boolean(self, False, one_row_for_all(book=CROSSED, cells=2))

@@ -6,7 +6,7 @@ from touchroad.errors import InvalidBook, InvalidMemory
 from touchroad.plain import one_row_run
 from touchroad.races import late_race, late_race_shown, race, race_shown
 from tests.helpers import WRONG, Draw, check_boolean, check_examples, check_raises, drawn_book, lively_book, same, shares, variants
-from tests.reference import Plain, all_stands
+from tests.reference import Plain, all_stands, is_stuck_somewhere
 
 EXAMPLES = """
 >>> from touchroad.races import late_race, race
@@ -191,25 +191,8 @@ class Races(unittest.TestCase):
                 free += 1
                 self.assertEqual(ends(book, memory), one_row_ends(book, memory))
                 with_race += race(book, memory) is not None
-                stands = all_stands(book, memory, late=False)
-                stuck = self.stuck(stands)
-                self.assertEqual(never_ends(book, memory), stuck)
+                self.assertEqual(never_ends(book, memory), is_stuck_somewhere(all_stands(book, memory, late=False)))
         self.assertGreater(with_race, 3)
-
-    def stuck(self, stands):
-        onward = {}
-        for stand, machine in stands.items():
-            onward[stand] = []
-            for step in machine.steps():
-                other = machine.twin()
-                other.go(step)
-                onward[stand].append(other.stand())
-        good = {stand for stand, machine in stands.items() if machine.ended()}
-        while True:
-            more = {s for s in stands if s not in good and any(o in good for o in onward[s])}
-            if not more:
-                return len(good) < len(stands)
-            good |= more
 
     def test_errors_names_and_new_lists(self):
         book, memory = ((("gap",), ("store", 0, 7, 0)), (("load", 1, 7, 0),)), (0,)

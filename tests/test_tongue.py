@@ -5,6 +5,7 @@ from touchroad.errors import InvalidMemory, InvalidPaths, InvalidProgram
 from touchroad.tongue import actions_of, interleaved_ends, is_program, is_short, is_statement, paths_of
 from tests import reference_programs as told
 from tests.helpers import WRONG, Draw, check_boolean, check_examples, check_raises, deep, same, variants
+from tests.reference import ends_in, reached_from
 
 EXAMPLES = """
 >>> from touchroad.tongue import actions_of, interleaved_ends, is_program, is_short, paths_of
@@ -198,10 +199,10 @@ class Interleaved(unittest.TestCase):
         many = set()
         for draw, program in programs(273, 150, size=5):
             memory = tuple(draw.below(3) for _ in range(1 + draw.below(3)))
-            states = told.all_states(told.Interleaved(program, memory), 2000)
+            states = reached_from(told.Interleaved(program, memory), 2000)
             if states is None:
                 continue
-            found = told.ends_in(states)
+            found = ends_in(states)
             many.add(len(found))
             self.assertTrue(same(interleaved_ends(program, memory), found), (program, memory))
         self.assertTrue({0, 1, 2, 3} <= many)

@@ -7,6 +7,7 @@ from touchroad.viewing import (viewed_behaviour, viewing_after, viewing_ended, v
                                viewing_run_of, viewing_run_to, viewing_steps)
 from tests import reference_programs as told
 from tests.helpers import WRONG, Draw, check_boolean, check_examples, check_raises, same, shares, variants
+from tests.reference import ends_in, reached_from
 from tests.test_behaviours import NOT_SHORT, PASSING, UPDATES, small_programs
 
 EXAMPLES = """
@@ -30,7 +31,7 @@ def machines(seed, many, most=500, hands=3, size=5, names=told.STATEMENTS):
         if draw.below(3) == 0:
             program = tuple(tuple(s[:2] + (draw.one_of((1, 2, 5)),) + s[3:] if s[0] in ("get", "put") else s for s in hand) for hand in program)
         memory = tuple(draw.one_of((0, 0, 1, 2)) for _ in range(1 + draw.below(2)))
-        stands = told.all_states(told.Viewing(program, memory), most)
+        stands = reached_from(told.Viewing(program, memory), most)
         if stands is not None and len(stands) > 8:
             many -= 1
             yield draw, program, memory, stands
@@ -125,7 +126,7 @@ class Machine(unittest.TestCase):
 class Runs(unittest.TestCase):
     def test_ends_and_runs_against_a_plain_search(self):
         for draw, program, memory, stands in machines(293, 60):
-            found = told.ends_in(stands)
+            found = ends_in(stands)
             self.assertTrue(same(viewing_ends(program, memory), found))
             self.assertTrue(set(interleaved_ends(program, memory)) <= set(found))
             for end in found[:6]:

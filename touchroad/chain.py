@@ -1,12 +1,10 @@
 """The one-row machine, the plain machine and the sorted machine compared, and where gaps are needed."""
 
-from touchroad.barneeds import needed_for_choices, needed_for_ends
+from touchroad.barneeds import needed_for_ends
 from touchroad.checks import check_book
-from touchroad.choicesearch import bad_choices
 from touchroad.ends import check_book_and_memory
 from touchroad.errors import InvalidMachine
-from touchroad.fences import sketch_for_all
-from touchroad.keeping import kept_order
+from touchroad.forall import first_choice_between, least_bars_for_all
 from touchroad.leastbars import least_bars_by
 from touchroad.places import barred_book, check_places, no_places
 from touchroad.searches import ends_by, one_row_moves, plain_moves
@@ -80,12 +78,6 @@ def least_bars(book, memory):
     return least_bars_to(book, memory, (0, 1), "one row")
 
 
-def sorted_choices(book, sketch, only_first):
-    """Return the choices, or the first one alone, that are without a ring in the sorted order, but not in the plain."""
-    none = no_places(book)
-    return bad_choices(sketch, kept_order("sorted", book, sketch.events, none, none), sketch.kept, only_first)
-
-
 def plain_for_all(book, cells):
     """Return whether each choice without a ring in the sorted order is without a ring."""
     return bad_sorted_choice(book, cells) is None
@@ -93,12 +85,9 @@ def plain_for_all(book, cells):
 
 def bad_sorted_choice(book, cells):
     """Return the first choice that has a ring, but none in the sorted order; None if there is none."""
-    found = sorted_choices(book, sketch_for_all(book, cells), True)
-    return found[0][0] if len(found) > 0 else None
+    return first_choice_between(book, cells, "sorted", "plain")
 
 
 def least_gaps_for_all(book, cells):
     """Return the first places of gaps with which plain_for_all holds."""
-    sketch = sketch_for_all(book, cells)
-    given = (sketch, "sorted", sorted_choices(book, sketch, False))
-    return least_bars_by(book, (1,), given, needed_for_choices)[1]
+    return least_bars_for_all(book, cells, "sorted", "plain")[1]

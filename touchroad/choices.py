@@ -54,6 +54,12 @@ def picks_of(sketch, choice):
     return {event: source for event, source in choice[0]}, after
 
 
+def order_of_choice(sketch, choice, order_of):
+    """Return the order of a choice by order_of(sketch, picked, after)."""
+    picked, after = picks_of(sketch, choice)
+    return order_of(sketch, picked, after)
+
+
 def ring_of_choice(sketch, choice):
     """Return (kind, ring) of a choice, None if it is without a ring."""
     picked, after = picks_of(sketch, choice)
@@ -77,8 +83,7 @@ def sorted_run_of_choice(sketch, book, choice):
     The events come to memory in a sequence that behind allows; a load, a fence, a swap and an addto
     when they are done, a store when it is flushed.
     """
-    picked, after = picks_of(sketch, choice)
-    order = behind_order(sketch, picked, after)
+    order = order_of_choice(sketch, choice, behind_order)
     events, _ = unwound(order, (1 << len(sketch.events)) - 1)
     steps = []
     done = [0] * len(book)

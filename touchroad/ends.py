@@ -2,7 +2,7 @@
 
 from touchroad.checks import check_book, check_memory, check_number
 from touchroad.errors import InvalidEnd
-from touchroad.runs import leads_in_one_row, leads_to
+from touchroad.runs import one_row_end, plain_end
 from touchroad.searches import ends_by, is_end, is_stuck_somewhere, one_row_moves, plain_moves, run_by_moves
 from touchroad.values import rebuilt
 
@@ -35,7 +35,7 @@ def run_to(book, memory, end):
 def run_leads(book, memory, end, value):
     """Return whether any object is a run of the plain machine that leads to an end."""
     check_end(book, memory, end)
-    return leads_to(book, memory, end, value)
+    return plain_end(book, memory, value) == end
 
 
 def one_row_ends(book, memory):
@@ -53,7 +53,7 @@ def one_row_run_to(book, memory, end):
 def one_row_run_leads(book, memory, end, value):
     """Return whether any object is a run of the one-row machine that leads to an end."""
     check_end(book, memory, end)
-    return leads_in_one_row(book, memory, end, value)
+    return one_row_end(book, memory, value) == end
 
 
 def late_end(book, memory):

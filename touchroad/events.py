@@ -1,10 +1,17 @@
 """Choices, rings and runs of short books."""
 
 from touchroad.checks import check_book, check_memory
-from touchroad.choices import choice_of_steps, end_of_choice, is_choice, picks_of, ring_of_choice, run_of_choice
+from touchroad.choices import (
+    choice_of_steps,
+    end_of_choice,
+    is_choice,
+    order_of_choice,
+    ring_of_choice,
+    run_of_choice,
+)
 from touchroad.errors import InvalidChoice, InvalidRun, NotFree, NotShort
 from touchroad.rings import behind_order, own_behind_order, pairs_of
-from touchroad.runs import is_run
+from touchroad.runs import plain_end
 from touchroad.sketches import Sketch, is_short_book
 from touchroad.values import rebuilt
 
@@ -23,19 +30,29 @@ def sketch_of(book, memory):
     return Sketch(book, memory)
 
 
+def check_choice(sketch, choice):
+    """Raise InvalidChoice for any object that is not a choice."""
+    if not is_choice(sketch, choice):
+        raise InvalidChoice(rebuilt(choice))
+
+
 def sketch_for(book, memory, choice):
     """Return the sketch of a short book; raise InvalidChoice, too."""
     sketch = sketch_of(book, memory)
-    if not is_choice(sketch, choice):
-        raise InvalidChoice(rebuilt(choice))
+    check_choice(sketch, choice)
     return sketch
+
+
+def check_free(sketch, choice):
+    """Raise NotFree for a choice with a ring."""
+    if ring_of_choice(sketch, choice) is not None:
+        raise NotFree(rebuilt(choice))
 
 
 def sketch_if_free(book, memory, choice):
     """Return the sketch of a short book; raise NotFree for a choice with a ring, too."""
     sketch = sketch_for(book, memory, choice)
-    if ring_of_choice(sketch, choice) is not None:
-        raise NotFree(rebuilt(choice))
+    check_free(sketch, choice)
     return sketch
 
 
@@ -52,15 +69,13 @@ def kept(book, memory):
 def behind(book, memory, choice):
     """Return the ascending list of the pairs of behind."""
     sketch = sketch_for(book, memory, choice)
-    picked, after = picks_of(sketch, choice)
-    return pairs_of(behind_order(sketch, picked, after))
+    return pairs_of(order_of_choice(sketch, choice, behind_order))
 
 
 def own_behind(book, memory, choice):
     """Return the ascending list of the pairs of own_behind."""
     sketch = sketch_for(book, memory, choice)
-    picked, after = picks_of(sketch, choice)
-    return pairs_of(own_behind_order(sketch, picked, after))
+    return pairs_of(order_of_choice(sketch, choice, own_behind_order))
 
 
 def ring(book, memory, choice):
@@ -76,7 +91,7 @@ def end_of(book, memory, choice):
 def choice_of(book, memory, run):
     """Return the choice of a run."""
     sketch = sketch_of(book, memory)
-    if not is_run(book, memory, run):
+    if plain_end(book, memory, run) is None:
         raise InvalidRun(rebuilt(run))
     return choice_of_steps(sketch, book, run)
 

@@ -3,7 +3,8 @@
 from touchroad.checks import check_book, check_memory_of, check_number, check_plan
 from touchroad.errors import InvalidNumber, NotLet
 from touchroad.fastdeeds import after_fast, begun_stand, is_let_fast, is_seen_ended, let_deeds, plain_stand, step_of
-from touchroad.runs import stand_after
+from touchroad.runs import stand_by
+from touchroad.stands import after_step, first_stand, is_plain_let
 from touchroad.steadyrule import steady_deed
 from touchroad.values import is_integer, rebuilt
 
@@ -102,4 +103,4 @@ def bridge(plan, book, memory, done):
 def is_bridge(plan, book, memory, done, value):
     """Return whether any object is a list of plain steps to the stand that is seen after deeds."""
     aim = plain_stand(stand_after_all(plan, book, memory, done))
-    return isinstance(value, list) and stand_after(book, memory, value) == aim
+    return isinstance(value, list) and stand_by(book, first_stand(book, memory), value, is_plain_let, after_step) == aim

@@ -1,9 +1,8 @@
 """The plain machine and the one-row machine."""
 
 from touchroad.checks import check_book, check_memory, check_number
-from touchroad.errors import NotLet
-from touchroad.stands import after_step, after_turn, first_stand, is_ended, is_let, is_stopped, is_turn, let_steps
-from touchroad.values import rebuilt
+from touchroad.runs import stand_by_let
+from touchroad.stands import after_step, after_turn, first_stand, is_ended, is_plain_let, is_stopped, is_turn, let_steps
 
 
 def plain_first(book, memory):
@@ -22,19 +21,12 @@ def plain_steps(book, stand):
 def plain_after(book, stand, step):
     """Return the stand after a step."""
     check_book(book)
-    if not is_let(book, stand, step):
-        raise NotLet(rebuilt(step))
-    return after_step(book, stand, step)
+    return stand_by_let(book, stand, [step], is_plain_let, after_step)
 
 
 def plain_run(book, memory, steps):
     """Return the stand after a list of steps from the first stand on."""
-    stand = plain_first(book, memory)
-    for step in steps:
-        if not is_let(book, stand, step):
-            raise NotLet(rebuilt(step))
-        stand = after_step(book, stand, step)
-    return stand
+    return stand_by_let(book, plain_first(book, memory), steps, is_plain_let, after_step)
 
 
 def has_stopped(book, stand, core):
@@ -52,9 +44,4 @@ def has_ended(book, stand):
 
 def one_row_run(book, memory, cores):
     """Return the stand to which a list of cores leads in the one-row machine."""
-    stand = plain_first(book, memory)
-    for core in cores:
-        if not is_turn(book, stand, core):
-            raise NotLet(rebuilt(core))
-        stand = after_turn(book, stand, core)
-    return stand
+    return stand_by_let(book, plain_first(book, memory), cores, is_turn, after_turn)

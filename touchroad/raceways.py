@@ -3,6 +3,7 @@
 A way is (stand, late): late has for each core whether it has done a store and no fence, swap or addto after it.
 """
 
+from touchroad.runs import stand_by
 from touchroad.searches import reached_from, way_to
 from touchroad.stands import ALONE, access_cell, after_turn, first_stand, is_stopped, is_turn
 from touchroad.values import is_between, is_tuple_of, replaced
@@ -63,7 +64,7 @@ def racing_pair(book, way, only_late):
 
 def way_moves(book, way):
     """Return the moves of the one-row machine between ways, as searches.py describes them."""
-    return [(core, after_way(book, way, core)) for core in range(len(book)) if is_turn(book, way[0], core)]
+    return [(core, after_way(book, way, core)) for core in range(len(book)) if is_way_turn(book, way, core)]
 
 
 def first_race(book, memory, only_late):
@@ -76,14 +77,14 @@ def first_race(book, memory, only_late):
     return None
 
 
+def is_way_turn(book, way, core):
+    """Return whether any object is a core that can do an instruction."""
+    return is_turn(book, way[0], core)
+
+
 def way_after(book, memory, cores):
     """Return the way after any objects as cores, None if one of them cannot do an instruction."""
-    way = first_way(book, memory)
-    for core in cores:
-        if not is_turn(book, way[0], core):
-            return None
-        way = after_way(book, way, core)
-    return way
+    return stand_by(book, first_way(book, memory), cores, is_way_turn, after_way)
 
 
 def shows_race(book, memory, value, only_late):

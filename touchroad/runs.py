@@ -1,44 +1,45 @@
-"""Whether any object is a run, for a book and a memory that have been checked."""
+"""Lists of steps of any machine, done one after the other, for arguments that have been checked.
 
-from touchroad.stands import after_step, after_turn, end_of_stand, first_stand, is_ended, is_let, is_turn
+is_let(given, stand, step) says whether any object is a step that is let, and after(given, stand, step) returns the
+stand after it. given is what the machine runs: a book, or the script of a program.
+"""
+
+from touchroad.errors import NotLet
+from touchroad.stands import after_step, after_turn, end_of_stand, first_stand, is_ended, is_plain_let, is_turn
+from touchroad.values import rebuilt
 
 
-def stand_after(book, memory, steps):
-    """Return the plain stand after any objects as steps, None if one of them is not let."""
-    stand = first_stand(book, memory)
+def stand_by(given, stand, steps, is_let, after):
+    """Return the stand after any objects as steps, None if one of them is not let."""
     for step in steps:
-        if not is_let(book, stand, step):
+        if not is_let(given, stand, step):
             return None
-        stand = after_step(book, stand, step)
+        stand = after(given, stand, step)
     return stand
 
 
-def stand_after_turns(book, memory, cores):
-    """Return the stand of the one-row machine after any objects as cores, None if one of them is not let."""
-    stand = first_stand(book, memory)
-    for core in cores:
-        if not is_turn(book, stand, core):
-            return None
-        stand = after_turn(book, stand, core)
+def stand_by_let(given, stand, steps, is_let, after):
+    """Return the stand after a list of steps; raise NotLet for the first one that is not let."""
+    for step in steps:
+        if not is_let(given, stand, step):
+            raise NotLet(rebuilt(step))
+        stand = after(given, stand, step)
     return stand
 
 
-def is_run(book, memory, value):
-    """Return whether any object is a run of the plain machine."""
+def end_by(book, memory, value, is_let, after):
+    """Return the end of any object that is a run of a machine, None if it is none."""
     if not isinstance(value, list):
-        return False
-    stand = stand_after(book, memory, value)
-    return stand is not None and is_ended(book, stand)
+        return None
+    stand = stand_by(book, first_stand(book, memory), value, is_let, after)
+    return end_of_stand(stand) if stand is not None and is_ended(book, stand) else None
 
 
-def leads_to(book, memory, end, value):
-    """Return whether any object is a run of the plain machine that leads to an end."""
-    return is_run(book, memory, value) and end_of_stand(stand_after(book, memory, value)) == end
+def plain_end(book, memory, value):
+    """Return the end of any object that is a run of the plain machine, None if it is none."""
+    return end_by(book, memory, value, is_plain_let, after_step)
 
 
-def leads_in_one_row(book, memory, end, value):
-    """Return whether any object is a run of the one-row machine that leads to an end."""
-    if not isinstance(value, list):
-        return False
-    stand = stand_after_turns(book, memory, value)
-    return stand is not None and is_ended(book, stand) and end_of_stand(stand) == end
+def one_row_end(book, memory, value):
+    """Return the end of any object that is a run of the one-row machine, None if it is none."""
+    return end_by(book, memory, value, is_turn, after_turn)

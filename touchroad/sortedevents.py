@@ -1,8 +1,8 @@
 """Choices, rings and runs of short books on the sorted machine."""
 
-from touchroad.choices import choice_of_steps, is_choice, picks_of, ring_of_choice, sorted_run_of_choice
-from touchroad.errors import InvalidChoice, InvalidRun, NotFree
-from touchroad.events import sketch_of
+from touchroad.choices import choice_of_steps, order_of_choice, ring_of_choice, sorted_run_of_choice
+from touchroad.errors import InvalidRun
+from touchroad.events import check_choice, check_free, sketch_of
 from touchroad.keeping import kept_order
 from touchroad.places import no_places
 from touchroad.rings import behind_order, pairs_of
@@ -20,8 +20,7 @@ def sorted_sketch_of(book, memory):
 def sorted_sketch_for(book, memory, choice):
     """Return the sketch of a short book with the sorted order; raise InvalidChoice, too."""
     sketch = sorted_sketch_of(book, memory)
-    if not is_choice(sketch, choice):
-        raise InvalidChoice(rebuilt(choice))
+    check_choice(sketch, choice)
     return sketch
 
 
@@ -33,8 +32,7 @@ def sorted_kept(book, memory):
 def sorted_behind(book, memory, choice):
     """Return the ascending list of the pairs of behind in the sorted order."""
     sketch = sorted_sketch_for(book, memory, choice)
-    picked, after = picks_of(sketch, choice)
-    return pairs_of(behind_order(sketch, picked, after))
+    return pairs_of(order_of_choice(sketch, choice, behind_order))
 
 
 def sorted_ring(book, memory, choice):
@@ -53,6 +51,5 @@ def sorted_choice_of(book, memory, run):
 def sorted_run_of(book, memory, choice):
     """Return a run of the sorted machine whose choice is a choice without a ring in the sorted order."""
     sketch = sorted_sketch_for(book, memory, choice)
-    if ring_of_choice(sketch, choice) is not None:
-        raise NotFree(rebuilt(choice))
+    check_free(sketch, choice)
     return sorted_run_of_choice(sketch, book, choice)

@@ -2,11 +2,10 @@
 
 from touchroad.checks import check_book, check_memory
 from touchroad.ends import check_book_and_memory, check_end
-from touchroad.errors import NotLet
+from touchroad.runs import stand_by_let
 from touchroad.searches import ends_by, run_by_moves
 from touchroad.sortedstands import after_sorted_step, is_sorted_let, let_sorted_steps, sorted_end, sorted_moves
 from touchroad.stands import first_stand, is_ended
-from touchroad.values import rebuilt
 
 
 def sorted_first(book, memory):
@@ -25,19 +24,12 @@ def sorted_steps(book, stand):
 def sorted_after(book, stand, step):
     """Return the stand after a step."""
     check_book(book)
-    if not is_sorted_let(book, stand, step):
-        raise NotLet(rebuilt(step))
-    return after_sorted_step(book, stand, step)
+    return stand_by_let(book, stand, [step], is_sorted_let, after_sorted_step)
 
 
 def sorted_run(book, memory, steps):
     """Return the stand after a list of steps from the first stand on."""
-    stand = sorted_first(book, memory)
-    for step in steps:
-        if not is_sorted_let(book, stand, step):
-            raise NotLet(rebuilt(step))
-        stand = after_sorted_step(book, stand, step)
-    return stand
+    return stand_by_let(book, sorted_first(book, memory), steps, is_sorted_let, after_sorted_step)
 
 
 def sorted_ended(book, stand):

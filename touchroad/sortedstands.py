@@ -3,7 +3,8 @@
 A stand is that of the plain machine, except that among the late stores there are marks, each None.
 """
 
-from touchroad.stands import after_do, can_do, end_of_stand, first_stand, is_ended
+from touchroad.runs import end_by
+from touchroad.stands import after_do, can_do
 from touchroad.values import is_between, replaced
 
 
@@ -82,19 +83,6 @@ def sorted_moves(book, stand):
     return [(step, after_sorted_step(book, stand, step)) for step in let_sorted_steps(book, stand)]
 
 
-def stand_after_sorted(book, memory, steps):
-    """Return the stand after any objects as steps, None if one of them is not let."""
-    stand = first_stand(book, memory)
-    for step in steps:
-        if not is_sorted_let(book, stand, step):
-            return None
-        stand = after_sorted_step(book, stand, step)
-    return stand
-
-
 def sorted_end(book, memory, value):
-    """Return the end of any object that is a run, None if it is none."""
-    if not isinstance(value, list):
-        return None
-    stand = stand_after_sorted(book, memory, value)
-    return end_of_stand(stand) if stand is not None and is_ended(book, stand) else None
+    """Return the end of any object that is a run of the sorted machine, None if it is none."""
+    return end_by(book, memory, value, is_sorted_let, after_sorted_step)

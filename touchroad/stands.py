@@ -112,7 +112,7 @@ def let_steps(book, stand):
     return steps
 
 
-def is_let(book, stand, step):
+def is_plain_let(book, stand, step):
     """Return whether any object is a step that is let."""
     if not is_tuple_of(step, 2) or not isinstance(step[0], str) or not is_between(step[1], 0, len(book) - 1):
         return False

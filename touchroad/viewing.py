@@ -4,7 +4,8 @@ from touchroad.behaviours import check_behaviour, check_program_end, check_short
 from touchroad.breakings import breaking_of
 from touchroad.checks import check_memory
 from touchroad.choices import picks_of
-from touchroad.errors import InvalidBehaviour, InvalidRun, NotLet
+from touchroad.errors import InvalidBehaviour, InvalidRun
+from touchroad.runs import stand_by_let
 from touchroad.scripts import Script
 from touchroad.tongue import check_program
 from touchroad.values import rebuilt
@@ -28,21 +29,13 @@ def viewing_steps(program, stand):
 def viewing_after(program, stand, step):
     """Return the stand after a step."""
     check_program(program)
-    script = Script(program)
-    if not is_view_let(script, stand, step):
-        raise NotLet(rebuilt(step))
-    return after_view_step(script, stand, step)
+    return stand_by_let(Script(program), stand, [step], is_view_let, after_view_step)
 
 
 def viewing_run(program, memory, steps):
     """Return the stand after a list of steps from the first stand on."""
     stand = viewing_first(program, memory)
-    script = Script(program)
-    for step in steps:
-        if not is_view_let(script, stand, step):
-            raise NotLet(rebuilt(step))
-        stand = after_view_step(script, stand, step)
-    return stand
+    return stand_by_let(Script(program), stand, steps, is_view_let, after_view_step)
 
 
 def viewing_ended(program, stand):

@@ -4,6 +4,7 @@ from touchroad.breakings import all_events
 from touchroad.choices import picks_of
 from touchroad.relations import step_order
 from touchroad.rings import unwound
+from touchroad.runs import stand_by
 from touchroad.scripts import Script, walk_of
 from touchroad.searches import reached_from, way_to
 from touchroad.statements import READING, TOUCHES, WRITING, touched_cell
@@ -23,12 +24,8 @@ def view_end_of(program, memory, value):
     if not isinstance(value, list):
         return None
     script = Script(program)
-    stand = first_view_stand(program, memory)
-    for step in value:
-        if not is_view_let(script, stand, step):
-            return None
-        stand = after_view_step(script, stand, step)
-    return view_end(stand) if is_view_ended(script, stand) else None
+    stand = stand_by(script, first_view_stand(program, memory), value, is_view_let, after_view_step)
+    return view_end(stand) if stand is not None and is_view_ended(script, stand) else None
 
 
 def all_view_ends(program, memory):
