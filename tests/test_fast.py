@@ -46,6 +46,11 @@ def stand_after(plan, book, memory, done):
     return stand
 
 
+class Examples(unittest.TestCase):
+    def test_examples(self):
+        check_examples(self, EXAMPLES)
+
+
 class OneCore(unittest.TestCase):
     """Stands of one core after deeds that are given."""
 
