@@ -434,7 +434,7 @@ class Decided(unittest.TestCase):
         word = ("word", 0, 2)
         good_parts = ((no, read), (yes, word))
         wrong = [((yes, word), (no, read)), ((no, read),), ((no, word), (yes, word)), ((no, read), (yes, read)), (), good_parts + good_parts[1:],
-                 ((((0,), ()), read), (yes, word)), ((([False], ()), read), (yes, word)), list(good_parts), ([no, read], (yes, word))]
+                 ((yes, read), (yes, word)), ((no, read), (no, word)), ((((0,), ()), read), (yes, word)), ((([False], ()), read), (yes, word)), list(good_parts), ([no, read], (yes, word))]
         for parts, good in [(good_parts, True)] + [(parts, False) for parts in wrong]:
             check_boolean(self, good, certifies(program, (4,), end, ("paths", parts)))
         check_boolean(self, True, certifies(program, (4,), end, found))

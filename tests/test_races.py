@@ -7,6 +7,7 @@ from touchroad.plain import one_row_run
 from touchroad.races import late_race, late_race_shown, race, race_shown
 from tests.helpers import WRONG, Draw, check_boolean, check_examples, check_raises, drawn_book, lively_book, same, shares, variants
 from tests.reference import Plain, all_stands, is_stuck_somewhere
+from tests.test_fences import crossing_book
 
 EXAMPLES = """
 >>> from touchroad.races import late_race, race
@@ -72,9 +73,11 @@ def searched(book, memory, only_late, most):
 def books(seed, many):
     draw = Draw(seed)
     while many:
-        kind = draw.below(3)
+        kind = draw.below(4)
         if kind == 0:
             book = drawn_book(draw, 2 + draw.below(2), 3)
+        elif kind == 3:
+            book = crossing_book(draw)
         else:
             book = lively_book(draw, 2, 4) if kind == 1 else lively_book(draw, 3, 2)
         if sum(map(len, book)) > 7 or any(i[0] in ("jump", "ifzero") and i[-1] <= at for r in book for at, i in enumerate(r)):
@@ -89,7 +92,7 @@ class Races(unittest.TestCase):
 
     def test_against_a_plain_search(self):
         found = [set(), set()]
-        for draw, book, memory in books(231, 150):
+        for draw, book, memory in books(231, 200):
             most = sum(map(len, book))
             for call, shown, only_late in ((race, race_shown, False), (late_race, late_race_shown, True)):
                 told = call(book, memory)
@@ -183,7 +186,7 @@ class Races(unittest.TestCase):
         free, with_race = 0, 0
         draw = Draw(233)
         while free < 60:
-            book = drawn_book(draw, 2, 4) if draw.below(2) else lively_book(draw, 2, 5)
+            book = draw.one_of((drawn_book(draw, 2, 4), lively_book(draw, 2, 5), crossing_book(draw)))
             memory = (draw.below(2), draw.below(2))
             if all_stands(book, memory, most=600) is None:
                 continue

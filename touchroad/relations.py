@@ -85,17 +85,6 @@ def back_in(scene, picked, after):
     return None
 
 
-def parted_by(scene, picked, after, event):
-    """Return the first write that has to be between an event that updates and its source, None if there is none."""
-    source = picked.get(event)
-    if source is None or not is_updating(scene, event):
-        return None
-    for write in scene.writers[scene.events[event][3]]:
-        if write != event and after[write] >> event & 1 and (source == -1 or after[source] >> write & 1):
-            return write
-    return None
-
-
 def is_misplaced(scene, picked, after, event):
     """Return whether the source of an event that updates is not directly before it in the order of a behaviour."""
     if not is_updating(scene, event):
@@ -103,7 +92,8 @@ def is_misplaced(scene, picked, after, event):
     source = picked[event]
     if source != -1 and not after[source] >> event & 1:
         return True
-    return parted_by(scene, picked, after, event) is not None
+    earlier = [write for write in scene.writers[scene.events[event][3]] if after[write] >> event & 1]
+    return any([source == -1 or after[source] >> write & 1 for write in earlier])
 
 
 def is_wrong_branch(words, branch):
