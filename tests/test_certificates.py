@@ -1,3 +1,4 @@
+import itertools
 import unittest
 
 from touchroad.behaviours import behaviour_end, behaviour_ends, broken
@@ -424,6 +425,21 @@ class Decided(unittest.TestCase):
         self.assertTrue(certifies(program, (0,), end, found))
         self.assertTrue(takes(program, (0,), end, found))
         self.assertEqual(certificate_size(found), len(leaves(found[1][0][1])))
+
+    def test_a_tree_that_decides_everything(self):
+        program = ((("put", 0, 5, 0, "loose"),) * 4, (("put", 0, 5, 0, "loose"),) * 3 + (("get", 1, 5, 0, "loose"),))
+        end = (((0, 0, 0, 0, 0, 9), (0,) * 6), (0,))
+        right = ("word", 0, 5)
+        tree, size = right, 1
+        for i, k in itertools.combinations(range(7), 2):
+            tree, size = ("first", i, k, tree, right), size + 1
+        tree, size = ("read", 7, tuple((source, tree if source == 3 else right) for source in range(-1, 7))), size + 7
+        value = ("paths", ((((), ()), tree),))
+        check_boolean(self, True, certifies(program, (0,), end, value))
+        self.assertEqual(certificate_size(value), size)
+        again = ("paths", ((((), ()), ("first", 5, 2, right, tree)),))
+        check_boolean(self, False, certifies(program, (0,), end, again))
+        self.assertEqual(certificate_size(again), size + 1)
 
     def test_paths(self):
         program = ((("get", 1, 5, 0, "loose"), ("if", 1, (("set", 2, 1),), ())), ())

@@ -211,7 +211,10 @@ class Races(unittest.TestCase):
         first[0].append(1)
         self.assertEqual(race(book, memory), ([0], 0, 1))
         self.assertIsNone(late_race(book=book, memory=memory))
-        check_boolean(self, True, race_shown(book=book, memory=memory, value=([0], 0, 1)))
+        cores = [0]
+        check_boolean(self, True, race_shown(book=book, memory=memory, value=(cores, 0, 1)))
+        check_boolean(self, False, late_race_shown(book, memory, (cores, 0, 1)))
+        self.assertEqual(cores, [0])
         check_boolean(self, False, late_race_shown(book=book, memory=memory, value=([0], 0, 1)))
 
 

@@ -190,7 +190,9 @@ class SortedEvents(unittest.TestCase):
             self.assertEqual(call(book=book, memory=memory, **named) + [None], first)
         self.assertIsNone(sorted_ring(book=book, memory=memory, choice=choice))
         run = sorted_run_of(book, memory, choice)
+        before = list(run)
         self.assertEqual(sorted_choice_of(book=book, memory=memory, run=run), choice)
+        self.assertEqual(run, before)
         self.assertFalse(shares([run], [sorted_run_of(book, memory, choice)]))
 
 
