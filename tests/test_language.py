@@ -22,7 +22,7 @@ NAMES = WORDS | set("""mro elements open input law version_info with_traceback a
 copyright credits delattr dir eval exec exit gc getattr globals hasattr help id importlib license locals methodcaller os quit
 setattr super vars sys""".split())
 STATEMENTS = (ast.Assign, ast.AugAssign, ast.If, ast.While, ast.For, ast.Return, ast.Break, ast.Continue, ast.Pass, ast.Raise,
-              ast.Assert, ast.Delete, ast.Expr, ast.FunctionDef, ast.ClassDef, ast.ImportFrom)
+              ast.Assert, ast.Delete, ast.Expr, ast.FunctionDef, ast.ClassDef, ast.ImportFrom, ast.Try)
 BUILT_IN = set(dir(builtins)) - {"_"}
 AT_ONCE = ("zip", "enumerate", "reversed")
 
@@ -73,6 +73,11 @@ class Language(unittest.TestCase):
                 elif isinstance(node, ast.Assign):
                     self.assertEqual(len(node.targets), 1)
                     bound.append(node.targets[0].id)
+                    if isinstance(node.value, ast.Dict) and all(isinstance(v, ast.Name) for v in node.value.values):
+                        # A table of functions that are defined above.
+                        above = {n.name for n in tree.body[:at] if isinstance(n, ast.FunctionDef)}
+                        self.assertTrue({v.id for v in node.value.values} <= above, (name, node.lineno))
+                        continue
                     value = ast.literal_eval(node.value)
                     inner = value.values() if isinstance(value, dict) else value if isinstance(value, (list, tuple)) else ()
                     self.assertFalse(any(isinstance(x, (list, dict, set)) for x in inner), (name, node.lineno))
@@ -117,14 +122,16 @@ class Language(unittest.TestCase):
                 if isinstance(node, ast.stmt):
                     self.assertIsInstance(node, STATEMENTS, where)
                 if isinstance(node, (ast.FunctionDef, ast.ClassDef)):
-                    self.assertEqual(node.decorator_list, [], where)
+                    self.assertIn([ast.unparse(d) for d in node.decorator_list], ([], ["property"]), where)
+                if isinstance(node, ast.Try):
+                    self.check_try(name, node)
                 self.assertNotIsInstance(node, (ast.GeneratorExp, ast.Div, ast.MatMult, ast.Yield, ast.YieldFrom, ast.Await,
                                                 ast.NamedExpr, ast.Starred, ast.AnnAssign, ast.Global), where)
                 if isinstance(node, ast.Constant):
                     self.assertIsInstance(node.value, (int, str, bool, type(None)), where)
                 if isinstance(node, ast.FunctionDef):
                     self.assertLessEqual(node.end_lineno - node.lineno + 1, 40, where)
-                    self.assertIsNotNone(ast.get_docstring(node) or node.name == "__init__" or None, where)
+                    self.assertIsNotNone(ast.get_docstring(node) or node.name.startswith("__") or None, where)
                     self.assertEqual(node.args.defaults + node.args.kwonlyargs + node.args.posonlyargs, [], where)
                 if isinstance(node, ast.Compare):
                     for op, side in zip(node.ops, node.comparators):
@@ -133,13 +140,50 @@ class Language(unittest.TestCase):
                 if isinstance(node, ast.Pow):
                     self.fail(where)
 
+    def check_try(self, name, node):
+        """Only own errors are caught, around one statement, and nothing comes after the handlers."""
+        own = {n.name for n in self.trees["errors.py"].body if isinstance(n, ast.ClassDef)}
+        self.assertEqual((len(node.body), node.orelse, node.finalbody), (1, [], []), (name, node.lineno))
+        for handler in node.handlers:
+            caught = handler.type.elts if isinstance(handler.type, ast.Tuple) else [handler.type]
+            self.assertTrue({kind.id for kind in caught} <= own, (name, node.lineno))
+            self.assertIsNone(handler.name)
+
+    def test_classes(self):
+        classes = [n for tree in self.trees.values() for n in ast.walk(tree) if isinstance(n, ast.ClassDef)]
+        names = [c.name for c in classes]
+        self.assertEqual(len(names), len(set(names)))
+        properties, methods, attributes = set(), set(), set()
+        for node in classes:
+            for method in node.body[1:] if ast.get_docstring(node) else node.body:
+                self.assertIsInstance(method, ast.FunctionDef, (node.name, method.lineno))
+                (properties if method.decorator_list else methods).add(method.name)
+                if method.decorator_list:
+                    self.assertEqual([type(s) for s in method.body[1:]], [ast.Return], (node.name, method.name))
+                if method.name in ("__eq__", "__len__"):
+                    self.assertFalse(any(isinstance(n, (ast.Assign, ast.AugAssign)) for n in ast.walk(method)))
+                if method.name == "__eq__":
+                    self.assertEqual(ast.unparse(method.body[0]), f"if not isinstance(other, {node.name}):\n    return False")
+                if method.name == "__len__":
+                    self.assertRegex(ast.unparse(method.body[0]), r"^return len\(")
+                self.assertEqual(method.args.args[0].arg, "self")
+        for tree in self.trees.values():
+            attributes |= {n.attr for n in ast.walk(tree) if isinstance(n, ast.Attribute) and isinstance(n.ctx, ast.Store)}
+        plain = {name for name in methods if not name.startswith("__")}
+        self.assertFalse(properties & (plain | attributes))
+        self.assertFalse(plain & attributes)
+        self.assertFalse((properties | plain | attributes) & (METHODS | NAMES | {"register", "exit", "format"}))
+        self.assertEqual({name for name in methods if name.startswith("__")}, {"__init__", "__eq__", "__len__"})
+
     def test_calls(self):
+        methods = {n.name for tree in self.trees.values() for c in ast.walk(tree) if isinstance(c, ast.ClassDef)
+                   for n in c.body if isinstance(n, ast.FunctionDef) and not n.decorator_list}
         for name, tree in self.trees.items():
             above = parents_of(tree)
             for node in ast.walk(tree):
                 where = (name, getattr(node, "lineno", 0))
                 if isinstance(node, ast.Attribute) and isinstance(above[node], ast.Call) and above[node].func is node:
-                    self.assertIn(node.attr, METHODS, where)
+                    self.assertIn(node.attr, METHODS | methods, where)
                 if isinstance(node, ast.Call):
                     self.assertTrue(isinstance(node.func, (ast.Name, ast.Attribute)), where)
                     self.assertEqual(node.keywords, [], where)
@@ -171,7 +215,7 @@ class Language(unittest.TestCase):
                     for word in own:
                         self.assertRegex(word, r"^(_|[a-z][a-z0-9_]*)$")
                     for read in ast.walk(node):
-                        if isinstance(read, ast.Name) and isinstance(read.ctx, ast.Load):
+                        if isinstance(read, ast.Name) and isinstance(read.ctx, ast.Load) and read not in node.decorator_list:
                             self.assertIn(read.id, own | top | imports | BUILTINS, (name, read.lineno))
                             self.assertNotEqual(read.id, "_")
                     # A class or a builtin is called or asked for, but not passed on.
@@ -220,7 +264,7 @@ class Language(unittest.TestCase):
             self.assertNotIn("_wall", text)
             for token in tokenize.generate_tokens(io.StringIO(text).readline):
                 if token.type == tokenize.NAME and not keyword.iskeyword(token.string):
-                    self.assertFalse(token.string.startswith("__") and token.string not in ("__init__",), (name, token))
+                    self.assertFalse(token.string.startswith("__") and token.string not in ("__init__", "__eq__", "__len__"), (name, token))
                     self.assertNotIn(token.string, WORDS, (name, token.start))
 
 

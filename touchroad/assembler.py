@@ -3,10 +3,10 @@
 from touchroad.books import LARGEST, PARTS
 from touchroad.checks import check_book
 from touchroad.errors import InvalidText
+from touchroad.numerals import DIGITS, is_number
 from touchroad.values import rebuilt
 
 SMALL = "abcdefghijklmnopqrstuvwxyz"
-DIGITS = "0123456789"
 
 
 def is_name(text):
@@ -14,14 +14,6 @@ def is_name(text):
     if not 1 <= len(text) <= 12 or text[0] not in SMALL:
         return False
     return all([sign in SMALL or sign in DIGITS for sign in text])
-
-
-def is_number(text, largest):
-    """Return whether a string is a number up to one of at most five digits, without leading zeros."""
-    # A long text is never turned into an integer: Python refuses some thousand digits.
-    if not 1 <= len(text) <= 5 or not all([sign in DIGITS for sign in text]):
-        return False
-    return (text == "0" or text[0] != "0") and int(text) <= largest
 
 
 def is_part(text, kind):

@@ -78,13 +78,21 @@ def behaviour_of_steps(program, memory, run):
     return tuple([hand[0] for hand in stand[0]]), reads, orders
 
 
+def index_behind(order, versions, write):
+    """Return the index of the version of a cell behind which a write belongs that reads nothing.
+
+    order has all writes of the cell. versions has the name of the first word, and those that have been done.
+    """
+    earlier = order[:order.index(write)]
+    return len([version for version in versions if version in earlier])
+
+
 def version_of(scene, picked, orders, versions, event):
     """Return the index of the version that an event reads, or behind which it writes."""
     cell = scene.events[event][3]
     if scene.taken[event] is not None:
         return versions[cell].index(picked[event])
-    earlier = orders[cell][:orders[cell].index(event)]
-    return len([write for write in versions[cell] if write in earlier])
+    return index_behind(orders[cell], versions[cell], event)
 
 
 def run_of_behaviour(program, scene, choice):
