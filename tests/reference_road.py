@@ -77,7 +77,7 @@ class Tagged:
         self.late = [[] for _ in program]
         self.memory = [(word, None) for word in memory]
         self.orders = [[] for _ in range(len(memory) + 1)]
-        self.sources, self.acts = {}, []
+        self.sources, self.acts, self.kinds = {}, [], {}
         self.looked = [None] * len(program)
 
     def take(self, h, cell):
@@ -98,6 +98,8 @@ class Tagged:
         instruction, role = self.book[h][row], self.roles[h][row]
         name, parts, regs, own = instruction[0], instruction[1:], self.regs[h], (h, self.done[h])
         self.row[h] += 1
+        if role == "act":
+            self.kinds[own] = name
         if role in ("act", "branch") or (role == "leave" and regs[6] == 0):
             self.acts.append(own)
             self.done[h] += 1

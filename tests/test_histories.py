@@ -203,6 +203,11 @@ class Linearizations(unittest.TestCase):
                               (((), ()), ((0,), (True,)), ((0, 1), (5, 6))), AGAINST[:2] + (((1, 0), (5, 6)),), AGAINST[:2] + (((0, 1), (6, 5)),),
                               AGAINST + (((0, 3), ()),), AGAINST[:2] + ([(0, 1), (5, 6)],), AGAINST[:1] + (((0,), (5,), ()),) + AGAINST[2:]):
             check_boolean(self, False, refutation_holds("queue", APART, wrong))
+        twice = ((1, TAKE, None, 0, 1), (1, TAKE, None, 2, 3))
+        for states, expected in (((), True), (((3,),), True), (((1, 2),), False), (((4,),), False), (((True,),), False), (((-1,),), False), ((0,), False), ((None,), False)):
+            value = tuple(sorted((((), ()), ((0,), (1,))) + tuple(((0,), state) for state in states), key=repr))
+            check_boolean(self, expected, refutation_holds("lock", twice, value))
+            check_boolean(self, expected, told.is_refutation("lock", twice, value))
         # The put of 6 comes behind that of 5, and both were done.
         check_boolean(self, False, refutation_holds("queue", LANE, linearized("queue", APART)[1]))
         check_boolean(self, False, refutation_holds("queue", (), (((), ()),)))
@@ -279,6 +284,17 @@ class Faults(unittest.TestCase):
         for puts, expected in (((0, 1), True), ((1,), True), ((0,), False), ((0, 1, 1), True), ((), False), ([1], False), ((True,), False), ((2,), False), ((1, 0), False)):
             check_boolean(self, expected, queue_fault_holds(chain, ("empty", 3, puts)))
             check_boolean(self, expected, told.is_queue_fault(chain, ("empty", 3, puts)))
+        # No index counts from the end.
+        late = ((1, TAKE, 6, 0, 9), (0, ("put", 5), None, 1, 2), (0, ("put", 6), None, 3, 4))
+        for value, expected in ((("overtaken", 1, 2), True), (("overtaken", 1, -1), False), (("overtaken", -2, 2), False)):
+            check_boolean(self, expected, queue_fault_holds(late, value))
+        early = ((1, TAKE, None, 2, 3), (0, ("put", 5), None, 4, 5))
+        for puts in ((-1,), (1,)):
+            check_boolean(self, False, queue_fault_holds(early, ("empty", 0, puts)))
+        there = ((0, ("put", 5), None, 0, 1), (1, TAKE, None, 2, 3))
+        for puts, expected in (((0,), True), ((-2,), False), ((0, -2), False)):
+            check_boolean(self, expected, queue_fault_holds(there, ("empty", 1, puts)))
+        check_boolean(self, False, queue_fault_holds(there, ("empty", -1, (0,))))
         # No put alone was there all the time, but one of two was.
         two = ((0, ("put", 5), None, 0, 1), (1, TAKE, None, 2, 9), (0, ("put", 6), None, 3, 4), (2, TAKE, 5, 5, 20), (3, TAKE, 6, 10, 11))
         self.assertEqual(queue_fault(history=two), ("empty", 1, (0, 2)))

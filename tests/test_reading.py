@@ -136,6 +136,9 @@ class Edges(unittest.TestCase):
     def test_papers(self):
         self.assertTrue(same(read_paper(text="cell 9999"), ("cell", 9999)))
         self.assertTrue(same(read_paper("read 0(start cell 0)"), ("read", 0, ((-1, ("cell", 0)),))))
+        self.assertEqual(read_paper("read 9999(start word 9999 9999, 9999 ring own 9999 0)")[2][1], (9999, ("ring", "own", (9999, 0))))
+        self.refused(read_paper, "word 10000 0", "word 0 10000", "first 10000 1(cell 0, cell 0)", "first 1 10000(cell 0, cell 0)", "ring own 10000 1", "ring own 1 10000",
+                     "ring own 1 2 10000")
         self.refused(read_paper, "", "cell", "cell 10000", "cell 01", "cell -1", "cell 0 0", "word 0", "word 0 0 0", "ring own 1", "ring own", "ring own 1 1", "ring other 1 2",
                      "ring behind 1 2 ", "ring  behind 1 2", "ring behind 1, 2", "ring 1 2", "first 1 1(cell 0, cell 0)", "first 1 2(cell 0)", "first 1 2(cell 0, cell 0, cell 0)",
                      "first 1 2 (cell 0, cell 0)", "first 1 2(cell 0,cell 0)", "first 1 2(cell 0, cell 0", "first 1 2 cell 0, cell 0", "first 1 2((cell 0, cell 0))",
@@ -169,7 +172,7 @@ class Edges(unittest.TestCase):
             self.assertTrue(told.is_program(read_program("again 1 { " * many + "} " * (many - 1) + "}")))
             self.assertTrue(told.is_program(read_program("if 1 { } { " * many + "} " * (many - 1) + "}")))
         for many in (5, 6, 60, 5000):
-            self.refused(read_program, "again 1 { " * many + "} " * (many - 1) + "}", "if 1 { " * many + "} { } " * (many - 1) + "} { }", "again 1 { " * many)
+            self.refused(read_program, "again 1 { " * many + "} " * (many - 1) + "}", "if 1 { " * many + "} { } " * (many - 1) + "} { }", "again 1 { " * many, "if 1 { } { " * many + "} " * (many - 1) + "}")
         self.refused(read_program, "again 1 { " * 4 + "whole " + "} " * 3 + "}")
         self.assertEqual(read_program("again 1 { " * 3 + "whole " + "} " * 2 + "}"), ((("again", 1, (("again", 1, (("again", 1, (("whole",),)),)),)),),))
 

@@ -156,6 +156,13 @@ class Books(unittest.TestCase):
             for longer in (hand + (one,), (one,) + hand, (("again", 1, hand + (one,)),), (("if", 0, hand, ()),)):
                 check_raises(self, TooLong, 0, BOOKS[kind], (longer, longer, hand))
                 check_raises(self, TooLong, 3, BOOKS[kind], (hand, (), hand, longer))
+        for kind, made in BOOKS.items():
+            ifs = ("again", 8, (("if", 0, (one,), (one, one)),))
+            self.assertEqual(len(made(((ifs,),))[0]), 40)
+            check_raises(self, TooLong, 0, made, ((ifs, one),))
+            self.assertEqual(len(made(((("if", 0, (("again", 8, (one, one)),) + (one,) * 3, (one,)), ("if", 1, (), ()), ("again", 8, (one, one))),))[0]), 40)
+        self.assertEqual(len(plain_book(((("again", 8, (WHOLE,) * 5),),))[0]), 40)
+        check_raises(self, TooLong, 0, sorted_book, ((("again", 8, (WHOLE,) * 5), WHOLE),))
         # Each kind counts its own rows.
         self.assertEqual(len(bare_book(((("again", 8, (AWAIT, give, WHOLE)),),))[0]), 40)
         check_raises(self, TooLong, 0, plain_book, ((("again", 8, (AWAIT, give, WHOLE)),),))
@@ -225,6 +232,7 @@ class Runs(unittest.TestCase):
                 self.check_viewing(kind, program, memory, run, tagged)
                 for own, source in tagged.sources.items():
                     seen_kinds.add((kind, "first" if source is None else "own" if source[0] == own[0] else "other"))
+                    seen_kinds.add((kind, tagged.kinds.get(source), tagged.kinds.get(own, "await")))
                 looks = sum(1 for role in tagged.roles for r in role if r == "look")
                 done = sum(1 for step in run if step[0] == "do")
                 seen_kinds.add("again" if looks and done > len(tagged.acts) + 4 * looks else "once")
@@ -232,6 +240,8 @@ class Runs(unittest.TestCase):
                 seen_kinds.add(told.is_short(program))
         self.assertTrue({(kind, which) for kind in ("plain", "sorted") for which in ("first", "own", "other")} <= seen_kinds)
         self.assertTrue({"again", "once", True, False} <= seen_kinds)
+        self.assertTrue({(kind, source, reader) for kind in ("plain", "sorted") for source in ("store", "swap", "addto", None)
+                         for reader in ("load", "swap", "addto", "await")} <= seen_kinds)
 
     def test_behaviours_behind_drawn_runs(self):
         """D1: the behaviour of a run is consistent, and has the end_up of its end."""

@@ -33,7 +33,7 @@ def length_of_one(kind, statement):
 
 def has_gap(kind, statement):
     """Return whether a statement that is neither if, again, await nor whole has a gap in a kind of book."""
-    return kind == "sorted" and statement[0] in TOUCHES and is_giving(statement)
+    return kind == "sorted" and is_giving(statement)
 
 
 def own_rows(kind, statement):

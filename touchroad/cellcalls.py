@@ -54,4 +54,5 @@ def calls_of_cell(book, memory, run, cell):
         stand = after_step(book, stand, step)
     if not watch.is_plain or len(watch.calls) > 10 or memory[cell] != 0:
         return None
-    return tuple([call for _, call in sorted([(call[3], call) for call in watch.calls])])
+    by_times = sorted([(made[3], made) for made in watch.calls])
+    return tuple([call for _, call in by_times])

@@ -1,6 +1,7 @@
 """Values from strings, Unreadable if they cannot be texts of such values.
 
-Not every sign is looked at here: reading.py compares the text of what was found with the string.
+Not every sign is looked at here, and words may be left behind a value: reading.py compares the text of what was found
+with the string.
 """
 
 from touchroad.errors import Unreadable
@@ -44,12 +45,6 @@ def taken_number(reader, digits):
     if not is_numeral(word, digits):
         raise Unreadable(reader.text)
     return int(word)
-
-
-def check_all_taken(reader):
-    """Raise Unreadable if words are left."""
-    if reader.at < len(reader.words):
-        raise Unreadable(reader.text)
 
 
 def parsed_words(text, part):
@@ -97,10 +92,7 @@ def parsed_run(text):
 def parsed_paper(text):
     """Return a paper, or what looks like one."""
     spaced = text.replace("(", " ( ").replace(")", " ) ").replace(",", " , ")
-    reader = Reader(text, [word for word in spaced.split(" ") if word != ""])
-    paper = taken_paper(reader, 0)
-    check_all_taken(reader)
-    return paper
+    return taken_paper(Reader(text, [word for word in spaced.split(" ") if word != ""]), 0)
 
 
 def taken_paper(reader, depth):
@@ -164,12 +156,7 @@ def parsed_program(text):
 
 def parsed_hand(text, part):
     """Return the hand that a part of a text shows."""
-    if part == "-":
-        return ()
-    reader = Reader(text, part.split(" "))
-    statements = taken_statements(reader, 0)
-    check_all_taken(reader)
-    return statements
+    return () if part == "-" else taken_statements(Reader(text, part.split(" ")), 0)
 
 
 def taken_statements(reader, depth):
@@ -217,9 +204,7 @@ def parsed_call(kind, text, part):
         take_sign(reader, "-")
     else:
         answer = taken_number(reader, 31)
-    call = (hand, operation, answer, taken_number(reader, 31), taken_number(reader, 31))
-    check_all_taken(reader)
-    return call
+    return (hand, operation, answer, taken_number(reader, 31), taken_number(reader, 31))
 
 
 def parsed_history(kind, text):

@@ -72,6 +72,27 @@ def paths_through(statements):
     return paths
 
 
+def count_through(statements):
+    """Return the number of the paths of statements."""
+    count = 1
+    for statement in statements:
+        if statement[0] == "if":
+            count *= count_through(statement[2]) + count_through(statement[3])
+        elif statement[0] == "again":
+            inside = count_through(statement[2])
+            for _ in range(statement[1]):
+                count *= inside
+    return count
+
+
+def count_of_paths(program):
+    """Return the number of the paths of a program, however many they are."""
+    count = 1
+    for hand in program:
+        count *= count_through(hand)
+    return count
+
+
 def all_paths(program):
     """Return the ascending list of the paths of a program."""
     found = [()]
