@@ -377,6 +377,8 @@ class Counterexamples(unittest.TestCase):
         self.assertEqual(len(told.paths_of(((three,),))), 3)
         check_boolean(self, True, holds((("if", 5, (branch, branch, branch, branch), (branch,) * 4),), (branch,)))
         check_boolean(self, False, holds((("if", 5, (branch, branch), ()),), (("if", 5, (branch, branch, three), ()),)))
+        for sides in (((), (branch,) * 6), ((branch,) * 6, ())):
+            check_boolean(self, False, holds((("if", 5) + sides,), ()))
         # Only one path has too many touches.
         check_boolean(self, False, holds((("if", 5, (put,) * 5, ()),), ()))
         check_boolean(self, True, holds((("if", 5, (put,) * 4, ()),), ()))
