@@ -156,9 +156,15 @@ class Paths(unittest.TestCase):
                 ((get, ("add", 3, 2, 1), ("xor", 4, 3, 0), ("get", 5, 4, 0, "loose")), False), ((get, ("below", 3, 1, 2), ("put", 0, 3, 0, "give")), False),
                 ((("if", 0, (get,), ()), taken), False), ((("if", 0, (get,), (taken,)),), True), ((("again", 2, (taken, get)),), False),
                 ((("again", 1, (taken, get)),), True), ((("again", 0, (get, taken)),), True), ((("if", 0, (get, ("set", 1, 0)), ()), taken), True),
-                ((get, ("if", 1, (), (taken,))), False), ((("get", 1, 1, 0, "loose"),), True), ((("again", 2, (("get", 1, 1, 0, "loose"),)),), False)):
+                ((get, ("if", 1, (), (taken,))), False), ((("get", 1, 1, 0, "loose"),), True), ((("again", 2, (("get", 1, 1, 0, "loose"),)),), False),
+                ((("if", 0, (get, taken), ()),), False), ((("if", 0, (), (get, taken)), ("set", 1, 1)), False), ((("if", 0, (get, taken), (get, taken)),), False),
+                ((("again", 5, (get, taken)), ("if", 0, (), ())), False), ((("again", 8, (("again", 8, (("if", 0, (taken,), (get,)),)),)),), False)):
             check_boolean(self, good, is_short((hand,)))
             check_boolean(self, good, is_short(((("whole",),), hand)))
+        # However many paths there are.
+        sure = ("if", 1, (("get", 2, 5, 0, "loose"),), (("set", 2, 1),))
+        for word, good in ((3, True), (5, False)):
+            check_boolean(self, good, is_short(((("again", 8, (("again", 8, (sure, ("if", 3, (("add", word, 2, 2),), ()))),)),),)))
         answers = [0, 0]
         draw = Draw(272)
         for _ in range(300):

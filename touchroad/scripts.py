@@ -102,31 +102,52 @@ def all_paths(program):
     return found
 
 
-def touches_by_read_word(actions):
-    """Return whether the variable on which the cell of some touch depends has a read word."""
-    read = {}
-    for action in actions:
-        name = action[0]
-        if name in TOUCHES:
-            if name != "whole" and action[-3] in read:
-                return True
-            if name in SETTING:
-                read[action[1]] = True
-        elif name != "branch":
-            if name != "set" and (action[2] in read or action[3] in read):
-                read[action[1]] = True
-            else:
-                read.pop(action[1], None)
-    return False
+def read_after(action, read):
+    """Return the set of the variables whose words are read after an action, None if its cell depends on such a word.
+
+    The bit 1 << v of a set stands for the variable v.
+    """
+    name = action[0]
+    if name in TOUCHES:
+        if name != "whole" and read >> action[-3] & 1:
+            return None
+        return read | 1 << action[1] if name in SETTING else read
+    if name != "set" and (read >> action[2] | read >> action[3]) & 1:
+        return read | 1 << action[1]
+    return read & ~(1 << action[1])
+
+
+def reads_through(statements, reads):
+    """Return the list of the sets, one or more, after statements that come after one of these sets.
+
+    None is returned if the cell of a touch depends on a read word.
+    """
+    for statement in statements:
+        if statement[0] == "again":
+            after = reads_again(statement[1], statement[2], reads)
+        elif statement[0] == "if":
+            yes, no = reads_through(statement[2], reads), reads_through(statement[3], reads)
+            after = None if yes is None or no is None else yes + no
+        else:
+            after = [read_after(statement, read) for read in reads]
+        if after is None or None in after:
+            return None
+        reads = sorted(set(after))
+    return reads
+
+
+def reads_again(times, body, reads):
+    """Return what reads_through returns for the statements of a body so many times."""
+    for _ in range(times):
+        reads = reads_through(body, reads)
+        if reads is None:
+            return None
+    return reads
 
 
 def is_short_program(program):
     """Return whether a program is short."""
-    return not any([
-        touches_by_read_word(walk_of(hand, path).actions)
-        for hand in program
-        for path in paths_through(hand)
-    ])
+    return all([reads_through(hand, [0]) is not None for hand in program])
 
 
 class Script:
