@@ -51,10 +51,7 @@ def removers(use, put):
 
 
 def is_fresh(use, index):
-    """Return whether a call answers a word other than 0 that no call puts, or is ahead of the call that puts it.
-
-    A queue has no first word: there 0 is like all other words, and is put or not.
-    """
+    """Return whether a call answers a word that no call puts, or is ahead of the call that puts it."""
     word = use.history[index][2]
     if word is None:
         return False
